@@ -1,0 +1,1 @@
+"""Strings between two rows of pegs, none crossing, put one behind another."""

@@ -1,0 +1,36 @@
+"""The interface: names, parameters, and where each thing is defined."""
+
+import importlib
+import inspect
+import unittest
+
+FUNCTIONS = {
+    "mats": {
+        "is_mat": "told", "straight": "n", "hook": "n i", "how_many": "n m", "all_mats": "n m",
+        "nth": "n m number", "rank": "mat", "upside_down": "mat", "left_right": "mat", "turned": "mat",
+        "beside": "one other", "through": "mat", "upper_half": "mat", "lower_half": "mat", "strings": "mat",
+    },
+    "joins": {
+        "joined": "one other", "joined_all": "mats", "power": "mat times", "comes_again": "mat",
+        "is_own_twice": "mat", "commute": "one other", "fits_between": "goal ahead behind",
+    },
+}
+
+
+class TestInterface(unittest.TestCase):
+
+    def test_each_function_stands_in_its_file_with_its_parameters(self):
+        for file, functions in FUNCTIONS.items():
+            module = importlib.import_module("hookmats." + file)
+            for name, parameters in functions.items():
+                function = getattr(module, name)
+                self.assertEqual(function.__module__, "hookmats." + file)
+                told = inspect.signature(function).parameters.values()
+                self.assertEqual([one.name for one in told], parameters.split(), name)
+                for one in told:
+                    self.assertIs(one.kind, inspect.Parameter.POSITIONAL_OR_KEYWORD)
+                    self.assertIs(one.default, inspect.Parameter.empty)
+
+
+if __name__ == "__main__":
+    unittest.main()
