@@ -1,6 +1,7 @@
-"""The examples of the document, as they stand: one session."""
+"""The examples of the document, as they stand: one session; and those of README.md."""
 
 import doctest
+import pathlib
 import unittest
 
 SESSION = """
@@ -16,13 +17,22 @@ SESSION = """
 """
 
 
+README = pathlib.Path(__file__).resolve().parent.parent / "README.md"
+
+
 class TestExamples(unittest.TestCase):
 
-    def test_the_session(self):
+    def assert_holds(self, text, attempted):
         told = []
-        session = doctest.DocTestParser().get_doctest(SESSION, {}, "session", None, 0)
+        session = doctest.DocTestParser().get_doctest(text, {}, "session", None, 0)
         result = doctest.DocTestRunner(verbose=False).run(session, out=told.append)
-        self.assertEqual((result.failed, result.attempted), (0, 6), "".join(told))
+        self.assertEqual((result.failed, result.attempted), (0, attempted), "".join(told))
+
+    def test_the_session(self):
+        self.assert_holds(SESSION, 6)
+
+    def test_the_readme(self):
+        self.assert_holds(README.read_text().replace("```\n", "\n"), 6)
 
 
 if __name__ == "__main__":

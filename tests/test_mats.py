@@ -118,6 +118,9 @@ class TestHowMany(Case):
             self.assert_raised_itself(InvalidNumber, -2, call, -2, -1)
             self.assert_raised_itself(InvalidNumber, -2, call, 0, -2)
             self.assert_raised_itself(InvalidNumber, -4, call, -4, 0)
+            self.assert_raised_itself(InvalidNumber, -1, call, 0, -1)
+            self.assert_raised_itself(InvalidNumber, -1, call, 1, -1)
+            self.assert_raised_itself(InvalidNumber, -1, call, 3, -1)
 
 
 class TestAllMats(Case):
@@ -172,6 +175,7 @@ class TestNthAndRank(Case):
         self.assert_raised(InvalidNumber, -2, mats.nth, 1, -2, -3)
         self.assert_raised(InvalidNumber, -2, mats.nth, 1, -2, 0)
         self.assert_raised(InvalidNumber, -1, mats.nth, -1, 1, 99)
+        self.assert_raised(InvalidNumber, -1, mats.nth, 3, -1, 0)
         self.assert_raised(InvalidNumber, -3, mats.nth, 1, 1, -3)
         self.assert_raised(InvalidNumber, 0, mats.nth, 0, 0, 0)
         self.assert_raised(InvalidNumber, 0, mats.nth, 2, 1, 0)
