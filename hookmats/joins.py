@@ -79,7 +79,8 @@ def joined_all(mats):
     return rings, whole
 
 
-def _check_square_mat(mat):
+def check_square_mat(mat):
+    """Raise InvalidMat for a tuple that is no mat, NotSquare for a mat that is not square."""
     check_mat(mat)
     check_square(mat)
 
@@ -92,7 +93,7 @@ def _with_rings(ahead, behind):
 
 def power(mat, times):
     """The tuple (rings, mat) of a square mat put behind itself, so many of them."""
-    _check_square_mat(mat)
+    check_square_mat(mat)
     if times < 1:
         raise InvalidNumber(times)
     # Doubling, since times may be far too large to go one by one.
@@ -108,7 +109,7 @@ def power(mat, times):
 
 def comes_again(mat):
     """The tuple (begin, length) of the first powers of a square mat with one mat."""
-    _check_square_mat(mat)
+    check_square_mat(mat)
     first = {}
     current, times = mat, 1
     while current not in first:
@@ -121,7 +122,7 @@ def comes_again(mat):
 
 def is_own_twice(mat):
     """True if the mat of the power 2 is the mat."""
-    _check_square_mat(mat)
+    check_square_mat(mat)
     return put_behind(mat, mat)[1] == mat
 
 

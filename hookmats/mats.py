@@ -11,7 +11,8 @@ def check_mat(mat):
         raise InvalidMat(mat)
 
 
-def _check_from(number, least):
+def check_from(number, least):
+    """Raise InvalidNumber for a number below the least one."""
     if number < least:
         raise InvalidNumber(number)
 
@@ -56,13 +57,13 @@ def _mat_of_pairs(n, m, pairs):
 
 def straight(n):
     """The mat of n in which each peg above is joined with the one below it."""
-    _check_from(n, 1)
+    check_from(n, 1)
     return _mat_of_pairs(n, n, [(peg, n + peg) for peg in range(n)])
 
 
 def hook(n, i):
     """The mat of n that joins i with i + 1, above and below, and is straight else."""
-    _check_from(n, 1)
+    check_from(n, 1)
     if not 0 <= i < n - 1:
         raise InvalidHook(i)
     pairs = [(peg, n + peg) for peg in range(n) if peg not in (i, i + 1)]
@@ -77,8 +78,8 @@ def _ways(many):
 
 def how_many(n, m):
     """The number of mats with n pegs above and m below."""
-    _check_from(n, 0)
-    _check_from(m, 0)
+    check_from(n, 0)
+    check_from(m, 0)
     return 0 if n + m == 0 or (n + m) & 1 else _ways(n + m)
 
 

@@ -1,7 +1,17 @@
 """What several of the tests ask."""
 
 import copy
+import time
 import unittest
+
+from hookmats.errors import MatError
+
+
+def lists_within(answer):
+    """All lists of an answer, itself included, also those within tuples."""
+    if not isinstance(answer, (list, tuple)):
+        return []
+    return ([answer] if isinstance(answer, list) else []) + [one for part in answer for one in lists_within(part)]
 
 
 class Case(unittest.TestCase):
@@ -25,6 +35,31 @@ class Case(unittest.TestCase):
         self.assertEqual(call(**named), answer)
         self.assertEqual(call(**dict(reversed(named.items()))), answer)
         self.assertEqual(named, kept)
+
+    def assert_new_lists(self, call, *args):
+        """Each list that is returned is new: none stands in two places, and to change it changes no answer."""
+        one, other = call(*args), call(*args)
+        lists = lists_within(one) + lists_within(other) + lists_within(args)
+        self.assertTrue(lists_within(one))
+        self.assertEqual(len(lists), len({id(told) for told in lists}))
+        for told in lists_within(one):
+            told.clear()
+        self.assertEqual(call(*args), other)
+
+    def assert_answered_still(self, call, right, *wrong):
+        """What is right behind wrong calls is answered as ahead of them."""
+        ahead = call(*right)
+        for args in wrong:
+            with self.assertRaises(MatError):
+                call(*args)
+            self.assert_same_kind(call(*right), ahead)
+
+    def in_time(self, call, *args):
+        """The answer, which is there in good time: far longer than it takes, far shorter than going astray."""
+        begun = time.perf_counter()
+        answer = call(*args)
+        self.assertLess(time.perf_counter() - begun, 20)
+        return answer
 
     def assert_same_kind(self, answer, wanted):
         """Alike, and of the same classes (1 is not True, a tuple no list)."""
@@ -62,4 +97,34 @@ NO_MATS = {
     "crossing below": (0, 4, (2, 3, 0, 1)),
     "a cap across one through": (3, 1, (2, 3, 0, 1)),
     "crossing, right with the numbers exchanged": (2, 4, (1, 0, 4, 5, 2, 3)),
+}
+
+# Tuples of integers that are no polynomials.
+NO_POLYS = [(0,), (0, 0), (1, 0), (0, 1, 0), (-1, 0, 0), (10 ** 29,) * 29 + (0,), (0,) * 30]
+
+_HOOK, _STRAIGHT, _ONE = (2, 2, (1, 0, 3, 2)), (2, 2, (2, 3, 0, 1)), (1, 1, (1, 0))
+
+# Tuples of tuples (tuple (integer, integer, tuple of integers), tuple of integers) that are no sums.
+NO_SUMS = {
+    "two exchanged": ((_STRAIGHT, (1,)), (_HOOK, (1,))),
+    "two exchanged, the polynomials ascending": ((_STRAIGHT, (1,)), (_HOOK, (2,))),
+    "one twice": ((_HOOK, (1,)), (_HOOK, (1,))),
+    "one twice, behind another": ((_HOOK, (1,)), (_STRAIGHT, (1,)), (_STRAIGHT, (1,))),
+    "a mat twice, polynomials ascending": ((_HOOK, (1,)), (_HOOK, (2,))),
+    "a mat twice, polynomials descending": ((_HOOK, (2,)), (_HOOK, (1,))),
+    "a mat twice, not side by side": ((_HOOK, (1,)), (_STRAIGHT, (1,)), (_HOOK, (1,))),
+    "a polynomial 0": ((_HOOK, ()),),
+    "the second polynomial 0": ((_HOOK, (1,)), (_STRAIGHT, ())),
+    "a last 0": ((_HOOK, (1, 0)),),
+    "0 as a last 0": ((_HOOK, (0,)),),
+    "the second with a last 0": ((_HOOK, (1,)), (_STRAIGHT, (0, 1, 0))),
+    "mats of other pegs": ((_ONE, (1,)), (_HOOK, (1,))),
+    "mats of other pegs, descending": ((_HOOK, (1,)), (_ONE, (1,))),
+    "as many above, others below": (((1, 1, (1, 0)), (1,)), ((1, 3, (1, 0, 3, 2)), (1,))),
+    "as many below, others above": ((_ONE, (1,)), ((3, 1, (1, 0, 3, 2)), (1,))),
+    "as many together": ((_HOOK, (1,)), ((3, 1, (1, 0, 3, 2)), (1,))),
+    "the third of other pegs": ((_HOOK, (1,)), (_STRAIGHT, (1,)), ((3, 1, (1, 0, 3, 2)), (1,))),
+    "a tuple that is no mat": (((2, 2, (3, 2, 1, 0)), (1,)),),
+    "the second is no mat": ((_HOOK, (1,)), ((2, 2, (3, 2, 1, 0)), (1,))),
+    "no pegs": (((0, 0, ()), (1,)),),
 }

@@ -1,6 +1,9 @@
 """Slow, plain ways to tell what the document says, apart from the package's own."""
 
+from fractions import Fraction
 from functools import lru_cache
+from itertools import zip_longest
+from math import gcd, lcm
 
 
 def round_about(n, m):
@@ -100,3 +103,202 @@ def power(mat, times):
         loose, result = joined(result, mat)
         rings += loose
     return rings, result
+
+
+def straight(n):
+    return mat_of(n, n, [(i, n + i) for i in range(n)])
+
+
+def hook(n, i):
+    pairs = [(j, n + j) for j in range(n) if j not in (i, i + 1)]
+    return mat_of(n, n, pairs + [(i, i + 1), (n + i, n + i + 1)])
+
+
+@lru_cache(None)
+def with_hook(mat, i):
+    return joined(mat, hook(mat[0], i))
+
+
+def value(n, word):
+    """By the words of [6]: all hooks of a word, put behind the straight mat one by one."""
+    rings, mat = 0, straight(n)
+    for i in word:
+        loose, mat = with_hook(mat, i)
+        rings += loose
+    return rings, mat
+
+
+@lru_cache(None)
+def shortest_words(n):
+    """For each square mat of n all its shortest words, ascending, searched length by length.
+
+    What stands ahead of a shortest word's last hook is a shortest word itself.
+    """
+    found = {straight(n): [()]}
+    level = dict(found)
+    while level:
+        further = {}
+        for mat, words in level.items():
+            for i in range(n - 1):
+                longer = with_hook(mat, i)[1]
+                if longer not in found:
+                    further.setdefault(longer, []).extend((*word, i) for word in words)
+        found.update(further)
+        level = further
+    return {mat: sorted(words) for mat, words in found.items()}
+
+
+def steps(word):
+    """Place by place, all moves that make a word not longer."""
+    found = []
+    for at in range(len(word)):
+        ahead = word[at:]
+        if len(ahead) > 1 and ahead[0] == ahead[1]:
+            found.append(("two", at))
+        if len(ahead) > 1 and ahead[1] not in (ahead[0] - 1, ahead[0], ahead[0] + 1):
+            found.append(("far", at))
+        if len(ahead) > 2 and ahead[2] == ahead[0] and ahead[1] in (ahead[0] - 1, ahead[0] + 1):
+            found.append(("neighbours", at))
+    return sorted(found)
+
+
+def after_step(word, step):
+    kind, at = step
+    row = list(word)
+    if kind == "two":
+        del row[at]
+    elif kind == "neighbours":
+        del row[at + 1:at + 3]
+    else:
+        row[at], row[at + 1] = row[at + 1], row[at]
+    return tuple(row)
+
+
+def moved(n, word):
+    """All (word, rings more) that one move of [9] makes of a word, also longer ones."""
+    found = [(after_step(word, step), -1 if step[0] == "two" else 0) for step in steps(word)]
+    for at, i in enumerate(word):
+        found.append((word[:at] + (i, i) + word[at + 1:], 1))
+        for near in (i - 1, i + 1):
+            if 0 <= near < n - 1:
+                found.append((word[:at] + (i, near, i) + word[at + 1:], 0))
+    return found
+
+
+def half_of(mat):
+    """What the upper half tells: the strings above, and which pegs have one that goes through."""
+    n, _, mates = mat
+    return tuple(mate if mate < n else None for mate in mates[:n])
+
+
+def flipped(mat):
+    n, m, mates = mat
+    place = [peg + m if peg < n else peg - n for peg in range(n + m)]
+    return mat_of(m, n, [(place[p], place[q]) for p, q in pairs_of(mates)])
+
+
+def through(mat):
+    return sum(p < mat[0] <= q for p, q in pairs_of(mat[2]))
+
+
+def trimmed(coefficients):
+    """The polynomial of coefficients, integers or fractions."""
+    row = list(coefficients)
+    while row and row[-1] == 0:
+        row.pop()
+    return tuple(row)
+
+
+def plus(one, other):
+    return trimmed(a + b for a, b in zip_longest(one, other, fillvalue=0))
+
+
+def times(one, other):
+    powers = {}
+    for i, a in enumerate(one):
+        for j, b in enumerate(other):
+            powers[i + j] = powers.get(i + j, 0) + a * b
+    return trimmed(powers.get(power, 0) for power in range(len(one) + len(other)))
+
+
+def value_at(poly, number):
+    return sum(coefficient * number ** power for power, coefficient in enumerate(poly))
+
+
+def parted(one, other):
+    """The quotient and what is left, with fractions."""
+    left, quotient = [Fraction(a) for a in one], {}
+    while len(left) >= len(other):
+        ahead = len(left) - len(other)
+        quotient[ahead] = left[-1] / other[-1]
+        left = list(plus(left, times((0,) * ahead + (-quotient[ahead],), other)))
+    return trimmed(quotient.get(power, 0) for power in range(len(one))), tuple(left)
+
+
+def primitive(poly):
+    """The multiple of a polynomial with fractions that has integers without a common factor, the last above 0."""
+    many = lcm(*(Fraction(a).denominator for a in poly))
+    whole = [int(a * many) for a in poly]
+    shared = gcd(*whole) if not whole or whole[-1] > 0 else -gcd(*whole)
+    return tuple(a // shared for a in whole)
+
+
+def common(one, other):
+    """By fractions, as Euclid does; then, as for integers alone, what both contents share."""
+    if not one or not other:
+        told = one or other
+        return told if not told or told[-1] > 0 else tuple(-a for a in told)
+    shared = gcd(gcd(*one), gcd(*other))
+    while other:
+        one, other = other, parted(one, other)[1]
+    return tuple(shared * a for a in primitive(one))
+
+
+def nothing_common(one, other):
+    """True if two polynomials have no common factor but 1 and -1.
+
+    What both have in common they have by remainders of a prime, too, if this
+    does not divide a last coefficient: mostly this is enough, and far quicker.
+    """
+    prime = 2 ** 61 - 1
+    if gcd(*one, *other) != 1:
+        return False
+    if one and one[-1] % prime:
+        ahead, behind = one, trimmed(a % prime for a in other)
+        while behind:
+            ahead, behind = behind, rest_by(ahead, behind, prime)
+        if len(ahead) == 1:
+            return True
+    return common(one, other) == (1,)
+
+
+def rest_by(one, other, prime):
+    """What is left by remainders of a prime."""
+    row, turned_over = [a % prime for a in one], pow(other[-1], -1, prime)
+    while len(row) >= len(other):
+        factor, ahead = row[-1] * turned_over, len(row) - len(other)
+        row = list(trimmed((a - factor * b) % prime for a, b in zip(row, (0,) * ahead + other)))
+    return tuple(row)
+
+
+def add_to(found, mat, poly):
+    found[mat] = plus(found.get(mat, ()), poly)
+
+
+def sum_of_dict(found):
+    return tuple(sorted((mat, poly) for mat, poly in found.items() if poly))
+
+
+@lru_cache(None)
+def joined_once(one, other):
+    return joined(one, other)
+
+
+def multiply(one, other):
+    """By the words of [8]: each mat of the one with each of the other."""
+    found = {}
+    for mat, poly in one:
+        for behind, factor in other:
+            rings, whole = joined_once(mat, behind)
+            add_to(found, whole, times(times(poly, factor), (0,) * rings + (1,)))
+    return sum_of_dict(found)

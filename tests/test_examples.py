@@ -14,6 +14,20 @@ SESSION = """
 >>> e, f = hook(3, 0), hook(3, 1)
 >>> [joined(e, e), joined(e, f), power(e, 4)[0], comes_again(joined(e, f)[1]), is_own_twice(e), commute(e, f), fits_between(joined(f, e)[1], f, e)]
 [(1, (3, 3, (1, 0, 5, 4, 3, 2))), (0, (3, 3, (1, 0, 3, 2, 5, 4))), 3, (1, 1), True, False, (3, 3, (1, 0, 3, 2, 5, 4))]
+>>> from hookmats.words import after_step, alike, least_length, least_word, least_words, moves_lead, steps, value_of
+>>> [value_of(3, (0, 1, 0, 0))[0], least_word(value_of(3, (0, 1, 0, 0))[1]), least_length(joined(e, f)[1]), least_words(value_of(4, (0, 2))[1]), alike(3, (0, 1, 0), (0,))]
+[1, (0,), 2, 2, True]
+>>> [steps(4, (0, 2, 2)), after_step(4, (0, 2, 2), ('two', 1)), moves_lead(3, (0, 1, 0), [('neighbours', 0)], (0,))]
+[[('far', 0), ('two', 1)], (0, 2), True]
+>>> from hookmats.classes import classes, inverses, led, own_twice, same_both
+>>> [len(classes(4, 2)), len(classes(4, 2)[0]), len(own_twice(3)), same_both(e, f), led(f, e) is not None, led(e, straight(3))]
+[3, 3, 5, True, True, None]
+>>> from hookmats.polys import at, at_prime, common, divided, fraction, fraction_plus, times, u_row
+>>> [u_row(4), times((0, 1), (1, 1)), divided((0, 0, 1), (0, 1)), fraction((0, 2), (0, 0, 2)), fraction_plus(((1,), (0, 1)), ((1,), (0, 1))), at((1, 0, 1), 3), at_prime((1, 0, 1), 3, 7), common((-1, 0, 1), (1, 1))]
+[[(1,), (0, 1), (-1, 0, 1), (0, -2, 0, 1)], (0, 1, 1), (0, 1), ((1,), (0, 1)), ((2,), (0, 1)), 10, 3, (1, 1)]
+>>> from hookmats.sums import add, at_worth, multiply, part, sum_of, word_sum
+>>> [multiply(sum_of(e), sum_of(e)) == word_sum(3, (0, 0)), part(word_sum(3, (0, 0)), e), add(sum_of(e), sum_of(e))[0][1], at_worth(word_sum(3, (0, 0)), 5)]
+[True, (0, 1), (2,), [((3, 3, (1, 0, 5, 4, 3, 2)), 5)]]
 """
 
 
@@ -29,10 +43,10 @@ class TestExamples(unittest.TestCase):
         self.assertEqual((result.failed, result.attempted), (0, attempted), "".join(told))
 
     def test_the_session(self):
-        self.assert_holds(SESSION, 6)
+        self.assert_holds(SESSION, 15)
 
     def test_the_readme(self):
-        self.assert_holds(README.read_text().replace("```\n", "\n"), 6)
+        self.assert_holds(README.read_text().replace("```\n", "\n"), 12)
 
 
 if __name__ == "__main__":

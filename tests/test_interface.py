@@ -14,6 +14,24 @@ FUNCTIONS = {
         "joined": "one other", "joined_all": "mats", "power": "mat times", "comes_again": "mat",
         "is_own_twice": "mat", "commute": "one other", "fits_between": "goal ahead behind",
     },
+    "words": {
+        "value_of": "n word", "least_length": "mat", "least_word": "mat", "least_words": "mat",
+        "alike": "n one other", "steps": "n word", "after_step": "n word step", "moves_between": "n word",
+        "moves_lead": "n word moves other",
+    },
+    "classes": {
+        "same_upper": "one other", "same_lower": "one other", "same_both": "one other", "led": "one other",
+        "classes": "n many", "own_twice": "n", "inverses": "mat",
+    },
+    "polys": {
+        "is_poly": "told", "plus": "one other", "times": "one other", "divided": "one other", "at": "one number",
+        "at_prime": "one number prime", "u_row": "many", "fraction": "top bottom", "common": "one other",
+        "fraction_plus": "one other", "fraction_times": "one other",
+    },
+    "sums": {
+        "is_sum": "told", "sum_of": "mat", "add": "one other", "multiply": "one other", "scaled": "told poly",
+        "part": "told mat", "flipped": "told", "word_sum": "n word", "at_worth": "told number",
+    },
 }
 
 

@@ -33,12 +33,30 @@ BARRED_WORDS = re.compile(
     r"NamedTuple|TypedDict|TYPE_CHECKING|abstractmethod)\b|dataclass|overload|contextmanager|_wall|_WallAttr")
 BARRED_NODES = (
     ast.Global, ast.AsyncFunctionDef, ast.AsyncFor, ast.AsyncWith, ast.Await, ast.Import, ast.Div, ast.MatMult,
-    ast.TryStar, ast.Set, ast.SetComp,
+    ast.TryStar, ast.Set, ast.SetComp, ast.Pow, ast.Lambda, ast.GeneratorExp, ast.Yield, ast.YieldFrom, ast.NamedExpr,
 )
+# L25: the methods of builtin values.
+VALUE_METHODS = set((
+    "append clear copy count endswith extend find get index insert isalnum isalpha isdigit islower isspace isupper "
+    "items join keys ljust lower lstrip partition pop remove replace reverse rfind rjust rpartition rsplit rstrip "
+    "setdefault split splitlines startswith strip update upper values zfill bit_length"
+).split())
+# L23: what is iterated at once, and what may stand around it.
+AT_ONCE = set("zip enumerate reversed range items keys values".split())
+AROUND = set("list tuple dict sorted sum any all enumerate zip min max".split())
 
 
 def tree_of(path):
     return ast.parse(path.read_text(encoding="ascii"))
+
+
+def place_of(node):
+    return (node.lineno, node.col_offset, node.end_lineno, node.end_col_offset)
+
+
+def called(node):
+    """The name of a function or a method that is called."""
+    return node.func.attr if isinstance(node.func, ast.Attribute) else getattr(node.func, "id", "")
 
 
 def bound_names(tree):
@@ -145,6 +163,34 @@ class TestLanguage(unittest.TestCase):
                     self.assertNotIsInstance(node.value, (float, complex, bytes), where)
                     self.assertNotIn("%", node.value if isinstance(node.value, str) else "", where)
             self.assertIsNone(BARRED_WORDS.search(path.read_text()), path.name)
+
+    def test_methods(self):
+        for path in FILES:
+            for node in ast.walk(tree_of(path)):
+                if isinstance(node, ast.Call) and isinstance(node.func, ast.Attribute):
+                    self.assertIn(node.func.attr, VALUE_METHODS, (path.name, node.lineno))
+                    self.assertEqual(node.keywords, [], (path.name, node.lineno))
+
+    def test_iterated_at_once(self):
+        for path in FILES:
+            allowed = set()
+            for node in ast.walk(tree_of(path)):
+                if isinstance(node, (ast.For, ast.comprehension)):
+                    allowed.add(place_of(node.iter))
+                if isinstance(node, ast.Call) and called(node) in AROUND | {"reversed"}:
+                    inside = [one for one in node.args if isinstance(one, ast.Call)]
+                    allowed |= {place_of(one) for one in inside if called(node) in AROUND or called(one) == "range"}
+            for node in ast.walk(tree_of(path)):
+                if isinstance(node, ast.Call) and called(node) in AT_ONCE:
+                    self.assertIn(place_of(node), allowed, path.name)
+
+    def test_tables_at_module_level_hold_plain_values(self):
+        for path in FILES:
+            for node in tree_of(path).body:
+                if isinstance(node, ast.Assign):
+                    self.assertEqual(len(node.targets), 1)
+                    self.assertIsInstance(node.targets[0], ast.Name)
+                    ast.literal_eval(node.value)
 
 
 if __name__ == "__main__":
