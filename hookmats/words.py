@@ -42,15 +42,15 @@ def alike(n, one, other):
     return _value(n, one)[1] == _value(n, other)[1]
 
 
-# The pegs of a square mat stand in columns, peg and n + peg in one. Between
-# two columns each hook there brings two strings across, and a shortest word
-# brings none across that comes back: so its hooks are half of all columns
-# that the strings of its mat pass over.
+# The pegs of a square mat stand in columns, peg and n + peg in one. A hook has
+# two strings that pass from its column to the next one; in a shortest word no
+# string passes there twice. So its hooks are half as many as the steps from
+# column to column that the strings of its mat make.
 
 
 def _length(mat):
     n, _, mates = mat
-    # Each string is met from both of its ends: half of the half is a quarter.
+    # Each string is met from both of its ends: a quarter is half of the steps.
     return sum([abs(peg % n - mate % n) for peg, mate in enumerate(mates)]) // 4
 
 
