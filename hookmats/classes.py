@@ -1,8 +1,8 @@
 """Classes of mats: those with the same halves, and what leads from one mat to another."""
 
-from hookmats.errors import InvalidNumber, InvalidPair
+from hookmats.errors import InvalidPair
 from hookmats.joins import check_square_mat, put_behind
-from hookmats.mats import all_mats, check_from, check_mat, lower_half, strings, through, upper_half
+from hookmats.mats import all_mats, check_from, check_mat, check_within, lower_half, strings, through, upper_half
 
 
 def _check_two(one, other):
@@ -63,8 +63,7 @@ def led(one, other):
 def classes(n, many):
     """The ascending list of the lists of the square mats, so many through, with one upper half."""
     check_from(n, 1)
-    if not 0 <= many <= n:
-        raise InvalidNumber(many)
+    check_within(many, 0, n)
     found = {}
     for mat in all_mats(n, n):
         if through(mat) == many:

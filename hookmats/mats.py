@@ -17,7 +17,13 @@ def check_from(number, least):
         raise InvalidNumber(number)
 
 
-def _round_about(n, m):
+def check_within(number, least, most):
+    """Raise InvalidNumber for a number that is not from the least one to the most one."""
+    if not least <= number <= most:
+        raise InvalidNumber(number)
+
+
+def round_about(n, m):
     """The pegs in the order in which they stand round about."""
     return list(range(n)) + list(range(n + m - 1, n - 1, -1))
 
@@ -30,7 +36,7 @@ def _are_mates(mates):
 def _none_cross(n, m, mates):
     # Strings that do not cross end round about as brackets do: the last one begun ends first.
     begun = []
-    for peg in _round_about(n, m):
+    for peg in round_about(n, m):
         if begun and begun[-1] == mates[peg]:
             begun.pop()
         else:
@@ -46,7 +52,7 @@ def is_mat(told):
     return _are_mates(mates) and _none_cross(n, m, mates)
 
 
-def _mat_of_pairs(n, m, pairs):
+def mat_of_pairs(n, m, pairs):
     """The mat whose strings join the pegs of each pair."""
     mates = [0] * (n + m)
     for peg, mate in pairs:
@@ -58,7 +64,7 @@ def _mat_of_pairs(n, m, pairs):
 def straight(n):
     """The mat of n in which each peg above is joined with the one below it."""
     check_from(n, 1)
-    return _mat_of_pairs(n, n, [(peg, n + peg) for peg in range(n)])
+    return mat_of_pairs(n, n, [(peg, n + peg) for peg in range(n)])
 
 
 def hook(n, i):
@@ -67,7 +73,7 @@ def hook(n, i):
     if not 0 <= i < n - 1:
         raise InvalidHook(i)
     pairs = [(peg, n + peg) for peg in range(n) if peg not in (i, i + 1)]
-    return _mat_of_pairs(n, n, pairs + [(i, i + 1), (n + i, n + i + 1)])
+    return mat_of_pairs(n, n, pairs + [(i, i + 1), (n + i, n + i + 1)])
 
 
 def _ways(many):
@@ -131,16 +137,15 @@ def all_mats(n, m):
     """The ascending list of the mats with n pegs above and m below."""
     if how_many(n, m) == 0:
         return []
-    return [_mat_of_pairs(n, m, pairs) for pairs in _joinings([_round_about(n, m)])]
+    return [mat_of_pairs(n, m, pairs) for pairs in _joinings([round_about(n, m)])]
 
 
 def nth(n, m, number):
     """The mat with an index in all_mats(n, m)."""
     # Counted first, so that a wrong n or m is raised ahead of a wrong number.
     many = how_many(n, m)
-    if not 0 <= number < many:
-        raise InvalidNumber(number)
-    regions, pairs, ahead = [_round_about(n, m)], [], number
+    check_within(number, 0, many - 1)
+    regions, pairs, ahead = [round_about(n, m)], [], number
     while regions:
         for peg, mate, left in _choices(regions):
             skipped = _ways_of(left)
@@ -149,14 +154,14 @@ def nth(n, m, number):
             ahead -= skipped
         pairs.append((peg, mate))
         regions = left
-    return _mat_of_pairs(n, m, pairs)
+    return mat_of_pairs(n, m, pairs)
 
 
 def rank(mat):
     """The index of a mat in the list of all with its pegs above and below."""
     check_mat(mat)
     n, m, mates = mat
-    regions, ahead = [_round_about(n, m)], 0
+    regions, ahead = [round_about(n, m)], 0
     while regions:
         for peg, mate, left in _choices(regions):
             if mates[peg] == mate:
@@ -166,7 +171,7 @@ def rank(mat):
     return ahead
 
 
-def _pairs_moved(mat, places):
+def pairs_moved(mat, places):
     """The strings of a mat as pairs, each peg exchanged for its new place."""
     return [(places[peg], places[mate]) for peg, mate in _strings(mat)]
 
@@ -180,7 +185,7 @@ def upside_down(mat):
 def _upside_down(mat):
     n, m, _ = mat
     places = list(range(m, m + n)) + list(range(m))
-    return _mat_of_pairs(m, n, _pairs_moved(mat, places))
+    return mat_of_pairs(m, n, pairs_moved(mat, places))
 
 
 def left_right(mat):
@@ -188,16 +193,16 @@ def left_right(mat):
     check_mat(mat)
     n, m, _ = mat
     places = list(range(n - 1, -1, -1)) + list(range(n + m - 1, n - 1, -1))
-    return _mat_of_pairs(n, m, _pairs_moved(mat, places))
+    return mat_of_pairs(n, m, pairs_moved(mat, places))
 
 
 def turned(mat):
     """A mat with each string moved to the pegs directly ahead of its own, round about."""
     check_mat(mat)
     n, m, _ = mat
-    around = _round_about(n, m)
+    around = round_about(n, m)
     places = {peg: around[at - 1] for at, peg in enumerate(around)}
-    return _mat_of_pairs(n, m, _pairs_moved(mat, places))
+    return mat_of_pairs(n, m, pairs_moved(mat, places))
 
 
 def beside(one, other):
@@ -207,7 +212,7 @@ def beside(one, other):
     n, m = one[0] + other[0], one[1] + other[1]
     left = list(range(one[0])) + list(range(n, n + one[1]))
     right = list(range(one[0], n)) + list(range(n + one[1], n + m))
-    return _mat_of_pairs(n, m, _pairs_moved(one, left) + _pairs_moved(other, right))
+    return mat_of_pairs(n, m, pairs_moved(one, left) + pairs_moved(other, right))
 
 
 def _pegs_through(mat):
@@ -226,7 +231,7 @@ def _upper_half(mat):
     n = mat[0]
     going = _pegs_through(mat)
     kept = [(peg, mate) for peg, mate in _strings(mat) if mate < n]
-    return _mat_of_pairs(n, len(going), kept + [(peg, n + at) for at, peg in enumerate(going)])
+    return mat_of_pairs(n, len(going), kept + [(peg, n + at) for at, peg in enumerate(going)])
 
 
 def upper_half(mat):

@@ -40,7 +40,7 @@ def _add_to(found, mat, poly):
     found[mat] = plus(found.get(mat, ()), poly)
 
 
-def _with_rings(poly, rings):
+def with_rings(poly, rings):
     """A polynomial multiplied by w once for each ring."""
     return times(poly, (0,) * rings + (1,))
 
@@ -67,7 +67,7 @@ def _all_behind(mat, told):
     found = {}
     for behind, poly in told:
         rings, whole = put_behind(mat, behind)
-        _add_to(found, whole, _with_rings(poly, rings))
+        _add_to(found, whole, with_rings(poly, rings))
     return found
 
 
@@ -110,7 +110,7 @@ def flipped(told):
 def word_sum(n, word):
     """The sum of the value of a word, its rings as powers of w."""
     rings, mat = value_of(n, word)
-    return ((mat, _with_rings((1,), rings)),)
+    return ((mat, with_rings((1,), rings)),)
 
 
 def at_worth(told, number):

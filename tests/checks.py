@@ -102,6 +102,13 @@ NO_MATS = {
 # Tuples of integers that are no polynomials.
 NO_POLYS = [(0,), (0, 0), (1, 0), (0, 1, 0), (-1, 0, 0), (10 ** 29,) * 29 + (0,), (0,) * 30]
 
+# Integers that are no primes from 2 to 97.
+NO_PRIMES = [0, 1, -1, -2, -3, -97, 4, 6, 9, 25, 49, 91, 95, 96, 98, 99, 100, 101, 103, 7919, 10 ** 30, -(10 ** 30)]
+PRIMES = [p for p in range(2, 98) if all(p % d for d in range(2, p))]
+
+# What is no n, and numbers below 0.
+BELOW_ONE = [0, -1, -2, -(10 ** 30)]
+
 _HOOK, _STRAIGHT, _ONE = (2, 2, (1, 0, 3, 2)), (2, 2, (2, 3, 0, 1)), (1, 1, (1, 0))
 
 # Tuples of tuples (tuple (integer, integer, tuple of integers), tuple of integers) that are no sums.

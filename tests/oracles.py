@@ -2,8 +2,8 @@
 
 from fractions import Fraction
 from functools import lru_cache
-from itertools import zip_longest
-from math import gcd, lcm
+from itertools import product, zip_longest
+from math import comb, gcd, lcm
 
 
 def round_about(n, m):
@@ -302,3 +302,154 @@ def multiply(one, other):
             rings, whole = joined_once(mat, behind)
             add_to(found, whole, times(times(poly, factor), (0,) * rings + (1,)))
     return sum_of_dict(found)
+
+
+def closed_rings(mat):
+    """By the words of [10]: lots of pegs that hang together if each above is joined with the one below it."""
+    n = mat[0]
+    lots = {peg: {peg} for peg in range(2 * n)}
+    for p, q in pairs_of(mat[2]) + [(peg, peg + n) for peg in range(n)]:
+        lot = lots[p] | lots[q]
+        for peg in lot:
+            lots[peg] = lot
+    return len({frozenset(lot) for lot in lots.values()})
+
+
+def u(n):
+    """U n by its closed form, not step by step: U n at q + 1 / q is the sum of q to the powers n, n - 2 .. -n."""
+    row = [0] * (n + 1)
+    for j in range(n // 2 + 1):
+        row[n - 2 * j] = (-1) ** j * comb(n - j, j)
+    return tuple(row)
+
+
+def product_of(polys):
+    whole = (1,)
+    for poly in polys:
+        whole = times(whole, poly)
+    return whole
+
+
+def binomial(n, r):
+    """By its words: one product divided by another."""
+    quotient, left = parted(product_of(u(n - 1 - at) for at in range(r)), product_of(u(at) for at in range(r)))
+    assert not left and all(Fraction(a).denominator == 1 for a in quotient)
+    return tuple(int(a) for a in quotient)
+
+
+def half_of_signs(signs):
+    """The half mat that signs tell, ( and ) the ends of a string above, | one that goes through; None if there is none."""
+    begun, through_pegs, pairs = [], [], []
+    for peg, sign in enumerate(signs):
+        if sign == "(":
+            begun.append(peg)
+        elif sign == "|" and not begun:
+            through_pegs.append(peg)
+        elif sign == ")" and begun:
+            pairs.append((begun.pop(), peg))
+        else:
+            return None
+    if begun:
+        return None
+    n = len(signs)
+    return mat_of(n, len(through_pegs), pairs + [(peg, n + at) for at, peg in enumerate(through_pegs)])
+
+
+@lru_cache(None)
+def half_mats(n, k):
+    """All of them, ascending, as a tuple: whatever signs tell one."""
+    told = (half_of_signs(signs) for signs in product("(|)", repeat=n) if signs.count("|") == k)
+    return tuple(sorted(half for half in told if half))
+
+
+def pairing(one, other):
+    rings, mat = joined(flipped(one), other)
+    return (0,) * rings + (1,) if not one[1] or through(mat) == one[1] else ()
+
+
+def determinant(rows):
+    """By expansion along one row after the other; what the last rows make of some columns is told once."""
+    @lru_cache(None)
+    def of_columns(columns):
+        if not columns:
+            return (1,)
+        row, whole = rows[len(rows) - len(columns)], ()
+        for at, column in enumerate(columns):
+            minor = times(((-1) ** at,), of_columns(columns[:at] + columns[at + 1:]))
+            whole = plus(whole, times(row[column], minor))
+        return whole
+    return of_columns(tuple(range(len(rows))))
+
+
+def rank(rows, prime):
+    """The rank by remainders, one row after the other: those that are left when the ones ahead are taken out."""
+    kept = []
+    for row in rows:
+        left = [number % prime for number in row]
+        for place, one in kept:
+            left = [(a - left[place] * b) % prime for a, b in zip(left, one)]
+        if any(left):
+            place = next(at for at, number in enumerate(left) if number)
+            turned_over = pow(left[place], -1, prime)
+            kept.append((place, [number * turned_over % prime for number in left]))
+    return len(kept)
+
+
+def choices(n, word):
+    """How often each (mat, power of A, rings) comes if at each crossing of a braid word each choice is made."""
+    found = {}
+    for straight_on in product((True, False), repeat=len(word)):
+        power, hooks = 0, []
+        for number, kept in zip(word, straight_on):
+            power += 1 if (number > 0) == kept else -1
+            if not kept:
+                hooks.append(abs(number) - 1)
+        rings, mat = value(n, hooks)
+        found[mat, power, rings] = found.get((mat, power, rings), 0) + 1
+    return found
+
+
+def add_rings(found, power, rings, many):
+    """Add so many times A to a power and the worth of rings, (-A ** 2 - A ** -2) ** rings, to a dict of powers."""
+    for j in range(rings + 1):
+        at = power + 2 * rings - 4 * j
+        found[at] = found.get(at, 0) + many * (-1) ** rings * comb(rings, j)
+
+
+def laurent(found):
+    return tuple((power, found[power]) for power in sorted(found) if found[power])
+
+
+def braid_sum(n, word):
+    whole = {}
+    for (mat, power, rings), many in choices(n, word).items():
+        add_rings(whole.setdefault(mat, {}), power, rings, many)
+    told = sorted((mat, laurent(found)) for mat, found in whole.items())
+    return [(mat, one) for mat, one in told if one]
+
+
+def closed_poly(n, word):
+    turns = sum(1 if number > 0 else -1 for number in word)
+    found = {}
+    for (mat, power, rings), many in choices(n, word).items():
+        add_rings(found, power - 3 * turns, rings + closed_rings(mat) - 1, many * (-1) ** (turns % 2))
+    return laurent(found)
+
+
+def moved_braid(word, at):
+    """By the words of braids.py, one kind of move after the other."""
+    row = list(word)
+    if at + 1 < len(row):
+        one, other = row[at], row[at + 1]
+        if abs(one) - abs(other) not in (-1, 0, 1):
+            row[at], row[at + 1] = other, one
+            return tuple(row)
+        if one + other == 0:
+            del row[at:at + 2]
+            return tuple(row)
+    for sign in (1, -1):
+        i, k, last = ([sign * number for number in row[at:at + 3]] + [0, 0, 0])[:3]
+        if i > 0 and k > 0 and i == last and i - k in (-1, 1):
+            row[at:at + 3] = [sign * k, sign * i, sign * k]
+            return tuple(row)
+    return None

@@ -28,6 +28,15 @@ SESSION = """
 >>> from hookmats.sums import add, at_worth, multiply, part, sum_of, word_sum
 >>> [multiply(sum_of(e), sum_of(e)) == word_sum(3, (0, 0)), part(word_sum(3, (0, 0)), e), add(sum_of(e), sum_of(e))[0][1], at_worth(word_sum(3, (0, 0)), 5)]
 [True, (0, 1), (2,), [((3, 3, (1, 0, 5, 4, 3, 2)), 5)]]
+>>> from hookmats.killers import binomial, is_killed, killer, killer_at, trace_of_killer
+>>> [killer(2), is_killed(2, killer(2)), binomial(3, 1), trace_of_killer(2), killer_at(2, 0, 5), killer_at(3, 0, 5) is not None]
+[[((2, 2, (1, 0, 3, 2)), ((-1,), (0, 1))), ((2, 2, (2, 3, 0, 1)), ((1,), (1,)))], True, (-1, 0, 1), ((-1, 0, 1), (1,)), None, True]
+>>> from hookmats.pairings import determinant, half_mats, nulls_at, pairing_table, rank_at, told_determinant
+>>> [half_mats(3, 1), pairing_table(3, 1), determinant(3, 1), told_determinant(3, 1), rank_at(3, 1, 1, 5), nulls_at(3, 1, 1, 5)]
+[[(3, 1, (1, 0, 3, 2)), (3, 1, (3, 2, 1, 0))], [[(0, 1), (1,)], [(1,), (0, 1)]], (-1, 0, 1), [(1, 1)], 1, [[1, 4]]]
+>>> from hookmats.braids import braid_sum, closed_poly, longer, moved, same_sums, undone, writhe
+>>> [braid_sum(2, (1,)), same_sums(2, (1, -1), ()), closed_poly(2, (1,)), closed_poly(2, (1, 1, 1)), writhe((1, -2, 1)), moved(3, (1, 2, 1), 0), same_sums(3, (1, 2, 1), (2, 1, 2))]
+[[((2, 2, (1, 0, 3, 2)), ((-1, 1),)), ((2, 2, (2, 3, 0, 1)), ((1, 1),))], True, ((0, 1),), ((-16, -1), (-12, 1), (-4, 1)), 1, (2, 1, 2), True]
 """
 
 
@@ -43,10 +52,10 @@ class TestExamples(unittest.TestCase):
         self.assertEqual((result.failed, result.attempted), (0, attempted), "".join(told))
 
     def test_the_session(self):
-        self.assert_holds(SESSION, 15)
+        self.assert_holds(SESSION, 21)
 
     def test_the_readme(self):
-        self.assert_holds(README.read_text().replace("```\n", "\n"), 12)
+        self.assert_holds(README.read_text().replace("```\n", "\n"), 21)
 
 
 if __name__ == "__main__":

@@ -32,6 +32,18 @@ FUNCTIONS = {
         "is_sum": "told", "sum_of": "mat", "add": "one other", "multiply": "one other", "scaled": "told poly",
         "part": "told mat", "flipped": "told", "word_sum": "n word", "at_worth": "told number",
     },
+    "killers": {
+        "killer": "n", "is_killed": "n told", "binomial": "n r", "killer_at": "n number prime", "trace_of_killer": "n",
+    },
+    "pairings": {
+        "half_mats": "n k", "how_many_halves": "n k", "pairing": "one other", "pairing_table": "n k",
+        "determinant": "n k", "told_determinant": "n k", "rank_at": "n k number prime",
+        "nulls_at": "n k number prime",
+    },
+    "braids": {
+        "braid_sum": "n word", "same_sums": "n one other", "writhe": "word", "closed_poly": "n word",
+        "undone": "word", "moved": "n word at", "longer": "n word sign", "turned_word": "word",
+    },
 }
 
 
