@@ -99,21 +99,10 @@ def closed_poly(n, word):
     return _times(whole, ((-3 * turns, -1 if turns & 1 else 1),))
 
 
-def _undone(word):
-    return tuple([-number for number in reversed(word)])
-
-
 def undone(word):
     """A word from its end, all signs changed."""
     _check_not_zero(word)
-    return _undone(word)
-
-
-def _is_triple(row):
-    """True for i, k, i and -i, -k, -i, i and k above 0 and differing by 1."""
-    if len(row) < 3 or row[0] != row[2]:
-        return False
-    return row[0] * row[1] > 0 and abs(row[0] - row[1]) == 1
+    return tuple([-number for number in reversed(word)])
 
 
 def moved(n, word, at):
@@ -121,13 +110,16 @@ def moved(n, word, at):
     _check_word(n, word)
     if not 0 <= at < len(word):
         raise InvalidPeg(at)
-    row, ahead = word[at:at + 3], word[:at]
-    if len(row) > 1 and abs(abs(row[0]) - abs(row[1])) >= 2:
-        return ahead + (row[1], row[0]) + word[at + 2:]
-    if _is_triple(row):
-        return ahead + (row[1], row[0], row[1]) + word[at + 3:]
-    if len(row) > 1 and row[0] == -row[1]:
+    if at + 1 == len(word):
+        return None
+    one, other, ahead = word[at], word[at + 1], word[:at]
+    if abs(abs(one) - abs(other)) >= 2:
+        return ahead + (other, one) + word[at + 2:]
+    if one == -other:
         return ahead + word[at + 2:]
+    # Two that differ by 1 have one sign, for there is no 0.
+    if abs(one - other) == 1 and word[at + 2:at + 3] == (one,):
+        return ahead + (other, one, other) + word[at + 3:]
     return None
 
 

@@ -1,16 +1,13 @@
 """Classes of mats: those with the same halves, and what leads from one mat to another."""
 
-from hookmats.errors import InvalidPair
-from hookmats.joins import check_square_mat, put_behind
+from hookmats.joins import check_same_pegs, check_square_mat, put_behind
 from hookmats.mats import all_mats, check_from, check_mat, check_within, lower_half, strings, through, upper_half
 
 
 def _check_two(one, other):
     check_mat(one)
     check_mat(other)
-    for told, wanted in ((one[0], other[0]), (one[1], other[1])):
-        if told != wanted:
-            raise InvalidPair((told, wanted))
+    check_same_pegs(one, other)
 
 
 def same_upper(one, other):

@@ -10,6 +10,13 @@ def check_square(mat):
         raise NotSquare(mat)
 
 
+def check_same_pegs(one, other):
+    """Raise InvalidPair for two mats with unlike numbers of pegs above, or else below."""
+    for told, wanted in zip(one[:2], other[:2]):
+        if told != wanted:
+            raise InvalidPair((told, wanted))
+
+
 def _check_pair(one, other):
     if one[1] != other[0]:
         raise InvalidPair((one[1], other[0]))
@@ -136,17 +143,11 @@ def commute(one, other):
     return put_behind(one, other) == put_behind(other, one)
 
 
-def _check_goal(goal, ahead, behind):
-    for wanted, told in ((goal[0], ahead[0]), (goal[1], behind[1])):
-        if wanted != told:
-            raise InvalidPair((wanted, told))
-
-
 def fits_between(goal, ahead, behind):
     """The first mat x such that ahead, x and behind have the mat goal, or None."""
     for mat in (goal, ahead, behind):
         check_mat(mat)
-    _check_goal(goal, ahead, behind)
+    check_same_pegs(goal, (ahead[0], behind[1]))
     for x in all_mats(ahead[1], behind[0]):
         if put_behind(put_behind(ahead, x)[1], behind)[1] == goal:
             return x

@@ -2,10 +2,10 @@
 
 from math import comb
 
-from hookmats.errors import InvalidMat, InvalidNumber, InvalidPair
-from hookmats.joins import put_behind
-from hookmats.mats import all_mats, check_from, check_within, is_mat, through, upside_down
-from hookmats.polys import at_prime, check_prime, divided, plus, times
+from hookmats.errors import InvalidMat, InvalidNumber
+from hookmats.joins import check_same_pegs, put_behind
+from hookmats.mats import all_mats, check_from, check_within, through, upside_down
+from hookmats.polys import at_prime, divided, plus, times
 from hookmats.remainders import nulls, reduced
 from hookmats.sums import with_rings
 
@@ -17,20 +17,16 @@ def _check_numbers(n, k):
         raise InvalidNumber(k)
 
 
-def _is_half(mat):
-    return through(mat) == mat[1]
-
-
 def check_half(mat):
     """Raise InvalidMat for a tuple that is no mat, or no half mat."""
-    if not is_mat(mat) or not _is_half(mat):
+    if through(mat) != mat[1]:
         raise InvalidMat(mat)
 
 
 def half_mats(n, k):
     """The ascending list of the mats with n pegs above and k below, all of these going through."""
     _check_numbers(n, k)
-    return [mat for mat in all_mats(n, k) if _is_half(mat)]
+    return [mat for mat in all_mats(n, k) if through(mat) == k]
 
 
 def how_many_halves(n, k):
@@ -52,9 +48,7 @@ def pairing(one, other):
     """The pairing of two half mats: w to the power of the rings, () if not all strings go through."""
     check_half(one)
     check_half(other)
-    for told, wanted in ((one[0], other[0]), (one[1], other[1])):
-        if told != wanted:
-            raise InvalidPair((told, wanted))
+    check_same_pegs(one, other)
     return _pairing(one, other)
 
 
@@ -96,8 +90,6 @@ def told_determinant(n, k):
 
 def _table_at(n, k, number, prime):
     """The table of pairings by remainders of a prime, w being a number."""
-    _check_numbers(n, k)
-    check_prime(prime)
     return [[at_prime(poly, number, prime) for poly in row] for row in pairing_table(n, k)]
 
 

@@ -177,6 +177,14 @@ class TestIsKilled(Case):
                 self.assertIs(killers.is_killed(n, [(oracles.hook(n, i), ((0, 1), (1,)))]), False)
             self.assertIs(killers.is_killed(n, [(mat, ((1,), (1,))) for mat, _ in told]), False)
 
+    def test_lists_that_are_not_in_form(self):
+        for n in range(2, 6):
+            told = killers.killer(n)
+            for wrong in (told[::-1], told + told[-1:], told + told, [told[1], told[0]] + told[2:]):
+                self.assertIs(killers.is_killed(n, wrong), False)
+            self.assertIs(killers.is_killed(n, [(mat, ((), (1,))) for mat, _ in told]), False)
+            self.assertIs(killers.is_killed(n - 1, told), False)
+
     def test_any_small_sums(self):
         chance, killed = random.Random(2), 0
         for n in range(2, 5):
