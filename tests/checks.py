@@ -135,3 +135,48 @@ NO_SUMS = {
     "the second is no mat": ((_HOOK, (1,)), ((2, 2, (3, 2, 1, 0)), (1,))),
     "no pegs": (((0, 0, ()), (1,)),),
 }
+
+# Mats that are no arches: there are pegs below.
+NO_ARCHES = [
+    (1, 1, (1, 0)), (2, 2, (1, 0, 3, 2)), (0, 2, (1, 0)), (0, 4, (3, 2, 1, 0)), (3, 1, (1, 0, 3, 2)),
+    (1, 3, (3, 2, 1, 0)), (4, 2, (1, 0, 3, 2, 5, 4)), (8, 8, tuple(range(8, 16)) + tuple(range(8))),
+]
+
+# Tuples of tuples of integers that are no parts.
+NO_PARTS = {
+    "nothing": (),
+    "an empty one": ((),),
+    "two empty ones": ((), ()),
+    "an empty one ahead": ((), (0,)),
+    "an empty one behind": ((0,), ()),
+    "an empty one between": ((0,), (), (1,)),
+    "a number twice": ((0, 0),),
+    "a number in two": ((0,), (0,)),
+    "a number in two, all there": ((0, 1), (1, 2)),
+    "a number twice, as many as wanted": ((0, 1), (1,)),
+    "0 missing": ((1,),),
+    "0 missing of more": ((1, 2), (3,)),
+    "a number missing": ((0, 2),),
+    "a number missing between": ((0,), (2,)),
+    "too great": ((0, 1, 3),),
+    "far too great": ((0,), (10 ** 30,)),
+    "below 0": ((-1, 0),),
+    "below 0 alone": ((-1,),),
+    "below 0, from behind": ((-1,), (0,), (1,)),
+    "far below 0": ((-(10 ** 30), 0),),
+    "tuples exchanged": ((1,), (0,)),
+    "the last tuples exchanged": ((0, 3), (2,), (1,)),
+    "tuples by length": ((1,), (0, 2)),
+    "numbers exchanged": ((1, 0),),
+    "the last numbers exchanged": ((0, 2, 1),),
+    "numbers exchanged in the second": ((0,), (2, 1)),
+    "numbers turned": ((1, 2, 0),),
+    "two that cross": ((0, 2), (1, 3)),
+    "two that cross, more in one": ((0, 2, 4), (1, 3)),
+    "two that cross, others between": ((0, 3), (1, 5), (2,), (4,)),
+    "two that cross behind another": ((0,), (1, 3), (2, 4)),
+    "two that cross within another": ((0, 5), (1, 3), (2, 4)),
+    "the last ones cross": ((0, 1), (2, 4, 6), (3,), (5, 7)),
+    "each crosses each": ((0, 3), (1, 4), (2, 5)),
+    "one that comes back": ((0, 1, 4), (2, 5), (3,)),
+}

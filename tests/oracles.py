@@ -2,7 +2,7 @@
 
 from fractions import Fraction
 from functools import lru_cache
-from itertools import product, zip_longest
+from itertools import combinations, product, zip_longest
 from math import comb, gcd, lcm
 
 
@@ -453,3 +453,265 @@ def moved_braid(word, at):
             row[at:at + 3] = [sign * k, sign * i, sign * k]
             return tuple(row)
     return None
+
+
+def partly_closed(mat, many):
+    """By the words of [10]: lots of pegs that hang together, two of those that are left in one or none."""
+    n = mat[0]
+    lots = {peg: {peg} for peg in range(2 * n)}
+    for p, q in pairs_of(mat[2]) + [(peg, peg + n) for peg in range(n - many, n)]:
+        lot = lots[p] | lots[q]
+        for peg in lot:
+            lots[peg] = lot
+    left = [peg for peg in range(2 * n) if peg % n < n - many]
+    loose = {frozenset(lot) for lot in lots.values() if not lot & set(left)}
+    ends = [next(end for end in left if end != peg and end in lots[peg]) for peg in left]
+    return len(loose), (n - many, n - many, tuple(left.index(end) for end in ends))
+
+
+def laid(mat, above, below):
+    """The mat of the same strings, its pegs laid anew: which ones stand above, and which below, from the left."""
+    row = above + below
+    return (len(above), len(below), tuple(row.index(mat[2][peg]) for peg in row))
+
+
+def bent(mat, many):
+    """By the words of closings.py."""
+    n, m, _ = mat
+    below = list(range(n, n + m))
+    up = below[m - many:]
+    return laid(mat, list(range(n)) + up[::-1], below[:m - many])
+
+
+def unbent(arch, n):
+    pegs = list(range(arch[0]))
+    return laid(arch, pegs[:n], pegs[n:][::-1])
+
+
+def closed_power(mat, times):
+    """Put behind one by one until a mat comes again; then whole rounds at once."""
+    seen, rings, now, at = {}, 0, mat, 1
+    while at < times:
+        if now in seen:
+            ahead, had = seen[now]
+            rounds = (times - at) // (at - ahead)
+            rings, at = rings + rounds * (rings - had), at + rounds * (at - ahead)
+            seen = {}
+            continue
+        seen[now] = at, rings
+        loose, now = joined_once(now, mat)
+        rings, at = rings + loose, at + 1
+    return rings + closed_rings(now)
+
+
+def trace(told):
+    whole = ()
+    for mat, poly in told:
+        whole = plus(whole, times(poly, (0,) * closed_rings(mat) + (1,)))
+    return whole
+
+
+def rounds(one, other):
+    """By the words of rounds.py: a walk from each least peg, along the one arch and the other by turns."""
+    left, found = set(range(one[0])), []
+    while left:
+        path = [min(left)]
+        while True:
+            arch = one if len(path) % 2 else other
+            peg = arch[2][path[-1]]
+            if peg == path[0]:
+                break
+            path.append(peg)
+        found.append(tuple(path))
+        left -= set(path)
+    return sorted(found)
+
+
+def turned_arch(arch, steps):
+    """One step after the other, each string by itself; as many steps as there are pegs are none."""
+    pegs, pairs = arch[0], pairs_of(arch[2])
+    for _ in range(steps % pegs):
+        pairs = [((p + 1) % pegs, (q + 1) % pegs) for p, q in pairs]
+    return mat_of(pegs, 0, pairs)
+
+
+def cross_parts(one, other):
+    """By the words of [12], whichever of the two comes first."""
+    for told, with_ in ((one, other), (other, one)):
+        for a, c in combinations(sorted(told), 2):
+            if any(a < b < c for b in with_) and any(d > c for d in with_):
+                return True
+    return False
+
+
+def is_parts(told):
+    numbers = [number for part in told for number in part]
+    if not told or () in told or sorted(numbers) != list(range(len(numbers))):
+        return False
+    if list(told) != sorted(told) or any(list(part) != sorted(part) for part in told):
+        return False
+    return not any(cross_parts(one, other) for one, other in combinations(told, 2))
+
+
+@lru_cache(None)
+def all_partings(n):
+    """All ways to part the numbers below n, crossing or not, as lists of tuples."""
+    if n == 0:
+        return ([],)
+    found = []
+    for told in all_partings(n - 1):
+        found.append(told + [(n - 1,)])
+        for at, part in enumerate(told):
+            found.append(told[:at] + [part + (n - 1,)] + told[at + 1:])
+    return tuple(found)
+
+
+@lru_cache(None)
+def all_parts(n):
+    told = (tuple(sorted(parts)) for parts in all_partings(n))
+    return tuple(sorted(parts for parts in told if is_parts(parts)))
+
+
+def is_finer(one, other):
+    return all(any(set(part) <= set(whole) for whole in other) for part in one)
+
+
+@lru_cache(None)
+def coarser(n):
+    """For each parts of n those that it is finer than, itself among them."""
+    return {one: frozenset(other for other in all_parts(n) if is_finer(one, other)) for one in all_parts(n)}
+
+
+@lru_cache(None)
+def finer(n):
+    return {one: frozenset(other for other in all_parts(n) if one in coarser(n)[other]) for one in all_parts(n)}
+
+
+def meet(n, one, other):
+    """By a search: of those finer than both the one that all others are finer than."""
+    both = finer(n)[one] & finer(n)[other]
+    return next(told for told in both if both <= finer(n)[told])
+
+
+def least_over(n, one, other):
+    both = coarser(n)[one] & coarser(n)[other]
+    return next(told for told in both if both <= coarser(n)[told])
+
+
+def interleaved(told, other):
+    """True if none cross, the numbers of the other one put between those told."""
+    one = [tuple(2 * number for number in part) for part in told]
+    between = [tuple(2 * number + 1 for number in part) for part in other]
+    return not any(cross_parts(a, b) for a in one for b in between)
+
+
+def turn(told):
+    """By a search over all parts: those with the fewest tuples."""
+    n = sum(map(len, told))
+    fitting = [other for other in all_parts(n) if interleaved(told, other)]
+    fewest = min(map(len, fitting))
+    told, = (other for other in fitting if len(other) == fewest)
+    return told
+
+
+def turn_by_pairs(told):
+    """Two are together if no tuple has some numbers between them and others not."""
+    n = sum(map(len, told))
+    found = []
+    for j in range(n):
+        for part in found:
+            inside = set(range(part[-1] + 1, j + 1))
+            if not any(set(one) & inside and set(one) - inside for one in told):
+                part.append(j)
+                break
+        else:
+            found.append([j])
+    return tuple(tuple(part) for part in found)
+
+
+def chains(n, many):
+    """List by list, the last parts told."""
+    row = {told: 1 for told in all_parts(n)}
+    for _ in range(many - 1):
+        row = {told: sum(row[one] for one in finer(n)[told]) for told in row}
+    return sum(row.values())
+
+
+def trees(n, branches):
+    """How many trees have n forks, each with so many branches: term by term, each told by those ahead."""
+    row = [1]
+    for size in range(1, n + 1):
+        whole = [1] + [0] * (size - 1)
+        for _ in range(branches):
+            whole = [sum(whole[i] * row[at - i] for i in range(at + 1)) for at in range(size)]
+        row.append(whole[size - 1])
+    return row[n]
+
+
+@lru_cache(None)
+def how_many_of(lengths, waiting=0):
+    """Number by number: it begins a tuple, or goes on with the last one begun that is not whole."""
+    if not lengths:
+        return 1
+    many = how_many_of(lengths, waiting - 1) if waiting else 0
+    for length in set(lengths):
+        at = lengths.index(length)
+        many += how_many_of(lengths[:at] + lengths[at + 1:], waiting + length - 1)
+    return many
+
+
+# Faces: round about, peg by peg, stand the gaps: that ahead of place t is at t.
+
+
+def gap_places(mat):
+    """For each gap above, and each below, the place round about."""
+    n, m, _ = mat
+    return list(range(n + 1)), [n + m - gap for gap in range(m + 1)]
+
+
+def parting(mat, here, there):
+    """The strings of which just one end stands between two places of gaps."""
+    place = {peg: at for at, peg in enumerate(round_about(*mat[:2]))}
+    low, high = sorted((here, there))
+    return [(p, q) for p, q in pairs_of(mat[2]) if (low <= place[p] < high) != (low <= place[q] < high)]
+
+
+def rooms(mat):
+    """Gaps that no string parts are in one room."""
+    above, below = gap_places(mat)
+    return sorted({
+        (tuple(gap for gap, at in enumerate(above) if not parting(mat, here, at)),
+         tuple(gap for gap, at in enumerate(below) if not parting(mat, here, at)))
+        for here in above + below})
+
+
+def place_of_room(mat, room):
+    above, below = gap_places(mat)
+    return above[room[0][0]] if room[0] else below[room[1][0]]
+
+
+def sides(mat):
+    """Two rooms are beside a string if it alone parts them."""
+    told = [place_of_room(mat, room) for room in rooms(mat)]
+    found = []
+    for a, b in combinations(range(len(told)), 2):
+        strings = parting(mat, told[a], told[b])
+        if len(strings) == 1:
+            found.append(strings[0] + (a, b))
+    return sorted(found)
+
+
+def between(mat, one, other):
+    """From room to room, as far as there are new ones."""
+    ways, doors = {one: []}, sides(mat)
+    while other not in ways:
+        for p, q, a, b in doors:
+            for here, there in ((a, b), (b, a)):
+                if here in ways and there not in ways:
+                    ways[there] = ways[here] + [(p, q)]
+    return ways[other]
+
+
+def cut_string(mat, peg):
+    left = [other for other in range(mat[0] + mat[1]) if other not in (peg, mat[2][peg])]
+    return laid(mat, [other for other in left if other < mat[0]], [other for other in left if other >= mat[0]])

@@ -37,6 +37,21 @@ SESSION = """
 >>> from hookmats.braids import braid_sum, closed_poly, longer, moved, same_sums, undone, writhe
 >>> [braid_sum(2, (1,)), same_sums(2, (1, -1), ()), closed_poly(2, (1,)), closed_poly(2, (1, 1, 1)), writhe((1, -2, 1)), moved(3, (1, 2, 1), 0), same_sums(3, (1, 2, 1), (2, 1, 2))]
 [[((2, 2, (1, 0, 3, 2)), ((-1, 1),)), ((2, 2, (2, 3, 0, 1)), ((1, 1),))], True, ((0, 1),), ((-16, -1), (-12, 1), (-4, 1)), 1, (2, 1, 2), True]
+>>> from hookmats.closings import arch_of, bent, closed_power, closed_rings, partly_closed, rings_row, trace, unbent
+>>> [closed_rings(straight(3)), closed_rings(e), partly_closed(e, 1), rings_row(2), arch_of(straight(2)), unbent(arch_of(e), 3) == e, closed_power(e, 3), trace(sum_of(e))]
+[3, 2, (1, (2, 2, (1, 0, 3, 2))), [0, 1, 1], (4, 0, (3, 2, 1, 0)), True, 4, (0, 0, 1)]
+>>> from hookmats.rounds import first_pair, how_many_rounds, pairs_row, partners, rounds, turned_arch, turns_to
+>>> wide, flat = arch_of(straight(2)), arch_of(hook(2, 0))
+>>> [rounds(wide, flat), how_many_rounds(wide, wide), pairs_row(3), turned_arch(wide, 1) == flat, turns_to(flat, wide), partners(wide, 2) == [wide], first_pair(2, 1) == (flat, wide)]
+[[(0, 3, 2, 1)], 2, [0, 8, 12, 5], True, 1, True, True]
+>>> from hookmats.parts import all_parts, arch_of_parts, chains, how_many_of, is_finer, least_over, lengths_of, meet, parts_of_arch, turn
+>>> [len(all_parts(4)), arch_of_parts(((0, 2), (1,))), parts_of_arch(flat), turn(((0, 2), (1,))), meet(((0, 1), (2,)), ((0,), (1, 2))), least_over(((0, 1), (2,)), ((0,), (1, 2)))]
+[14, (6, 0, (5, 4, 3, 2, 1, 0)), ((0,), (1,)), ((0, 1), (2,)), ((0,), (1,), (2,)), ((0, 1, 2),)]
+>>> [chains(3, 2), how_many_of((1, 2)), lengths_of(((0, 2), (1,))), is_finer(((0,), (1,)), ((0, 1),))]
+[12, 3, (1, 2), True]
+>>> from hookmats.faces import between, colours, cut_string, room_at, rooms, sides
+>>> [rooms(hook(2, 0)), colours(hook(2, 0)), sides(hook(2, 0)), between(hook(2, 0), 1, 2), room_at(hook(2, 0), True, 1), cut_string(hook(2, 0), 0)]
+[[((), (1,)), ((0, 2), (0, 2)), ((1,), ())], [1, 0, 1], [(0, 1, 1, 2), (2, 3, 0, 1)], [(0, 1)], 0, (0, 2, (1, 0))]
 """
 
 
@@ -52,10 +67,10 @@ class TestExamples(unittest.TestCase):
         self.assertEqual((result.failed, result.attempted), (0, attempted), "".join(told))
 
     def test_the_session(self):
-        self.assert_holds(SESSION, 21)
+        self.assert_holds(SESSION, 31)
 
     def test_the_readme(self):
-        self.assert_holds(README.read_text().replace("```\n", "\n"), 21)
+        self.assert_holds(README.read_text().replace("```\n", "\n"), 32)
 
 
 if __name__ == "__main__":

@@ -44,6 +44,23 @@ FUNCTIONS = {
         "braid_sum": "n word", "same_sums": "n one other", "writhe": "word", "closed_poly": "n word",
         "undone": "word", "moved": "n word at", "longer": "n word sign", "turned_word": "word",
     },
+    "closings": {
+        "closed_rings": "mat", "partly_closed": "mat many", "trace": "told", "rings_row": "n", "bent": "mat many",
+        "arch_of": "mat", "unbent": "arch n", "closed_power": "mat times",
+    },
+    "rounds": {
+        "rounds": "one other", "how_many_rounds": "one other", "pairs_row": "h", "partners": "arch many",
+        "first_pair": "h many", "turned_arch": "arch steps", "turns_to": "one other",
+    },
+    "parts": {
+        "is_parts": "told", "all_parts": "n", "arch_of_parts": "told", "parts_of_arch": "arch",
+        "is_finer": "one other", "meet": "one other", "least_over": "one other", "turn": "told",
+        "chains": "n many", "lengths_of": "told", "how_many_of": "lengths",
+    },
+    "faces": {
+        "rooms": "mat", "room_at": "mat below gap", "colours": "mat", "sides": "mat", "between": "mat one other",
+        "cut_string": "mat peg",
+    },
 }
 
 
