@@ -22,12 +22,18 @@ def _check_words(n, one, other):
     _check_hooks(n, other)
 
 
+def with_hook(told, index):
+    """A tuple (rings, mat) of a square mat, with a hook put behind."""
+    rings, mat = told
+    loose, whole = put_behind(mat, hook(mat[0], index))
+    return rings + loose, whole
+
+
 def _value(n, word):
-    rings, mat = 0, straight(n)
+    told = (0, straight(n))
     for index in word:
-        loose, mat = put_behind(mat, hook(n, index))
-        rings += loose
-    return rings, mat
+        told = with_hook(told, index)
+    return told
 
 
 def value_of(n, word):

@@ -180,3 +180,26 @@ NO_PARTS = {
     "each crosses each": ((0, 3), (1, 4), (2, 5)),
     "one that comes back": ((0, 1, 4), (2, 5), (3,)),
 }
+
+# Tuples of integers that are no walks.
+NO_WALKS = {
+    "down at once": (-1,),
+    "down at once, then up": (-1, 1),
+    "down at once, up above": (-1, 1, 1, 1),
+    "down from 0": (1, -1, -1),
+    "down from 0, then up": (1, -1, -1, 1),
+    "down from 0 again": (1, -1, 1, -1, -1, 1, 1, 1),
+    "down from 0 late": (1, 1, -1, -1, -1, 1, 1),
+    "down at the end": (1, 1, -1, -1, 1, -1, -1),
+    "0": (0,),
+    "0 within": (1, 0, -1),
+    "0 at the end": (1, -1, 0),
+    "2": (2,),
+    "2 within": (1, 2, -1),
+    "-2": (1, 1, -2),
+    "-2 far above": (1, 1, 1, 1, -2),
+    "far": (10 ** 30,),
+    "far below": (1, -(10 ** 30)),
+    "far and back": (10 ** 30, -(10 ** 30)),
+    "down from 0 after sixty": (1, -1) * 29 + (-1, 1),
+}

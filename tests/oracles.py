@@ -715,3 +715,93 @@ def between(mat, one, other):
 def cut_string(mat, peg):
     left = [other for other in range(mat[0] + mat[1]) if other not in (peg, mat[2][peg])]
     return laid(mat, [other for other in left if other < mat[0]], [other for other in left if other >= mat[0]])
+
+
+@lru_cache(None)
+def walks(n):
+    """All walks of n, ascending: of all rows of steps those of which no beginning is below 0."""
+    return tuple(steps for steps in product((-1, 1), repeat=n) if is_walk(steps))
+
+
+def is_walk(told):
+    return all(step in (-1, 1) for step in told) and not any(sum(told[:at]) < 0 for at in range(len(told) + 1))
+
+
+@lru_cache(None)
+def how_many_walks(n):
+    """For each end how many walks of n there are, step by step."""
+    row = {0: 1}
+    for _ in range(n):
+        further = {}
+        for now, many in row.items():
+            for end in (now - 1, now + 1):
+                if end >= 0:
+                    further[end] = further.get(end, 0) + many
+        row = further
+    return row
+
+
+def walk_of(half):
+    """By the words of [13]."""
+    n, _, mates = half
+    return tuple(1 if mates[peg] >= n or mates[peg] > peg else -1 for peg in range(n))
+
+
+def upper_walk(mat):
+    """The walk of the upper half, () if there are no pegs above."""
+    return walk_of(mat)
+
+
+@lru_cache(None)
+def mats_by_walks(n, m):
+    """For each pair of walks the mats whose halves have them."""
+    found = {}
+    for mat in all_mats(n, m):
+        found.setdefault((upper_walk(mat), upper_walk(flipped(mat))), []).append(mat)
+    return found
+
+
+def u_at(many, number, prime):
+    """U 0 to U many less 1 by remainders, each by its closed form."""
+    return [value_at(u(n), number) % prime for n in range(many)]
+
+
+def barred(n, number, prime):
+    """By the words of [9], with q and 1 / q adding up to w: integers a + b q, multiplied with q ** 2 being w q - 1.
+
+    The binomials, times a power of q, which is nowhere 0, are sums of the two above them, as Gauss told.
+    """
+    def multiplied(one, other):
+        (a, b), (c, d) = one, other
+        return ((a * c - b * d) % prime, (a * d + b * c + b * d * number) % prime)
+
+    square = multiplied((0, 1), (0, 1))
+    powers, row, found = [(1, 0)], [(1, 0)], []
+    for size in range(1, n + 1):
+        powers.append(multiplied(powers[-1], square))
+        padded = [(0, 0)] + row + [(0, 0)]
+        row = []
+        for r in range(size + 1):
+            (a, b), (c, d) = padded[r], multiplied(powers[r], padded[r + 1])
+            row.append(((a + c) % prime, (b + d) % prime))
+        if (0, 0) in row:
+            found.append(size)
+    return found
+
+
+def ranks(n, number, prime):
+    found = []
+    for k in range(n + 1):
+        if (n - k) % 2 == 0:
+            halves = half_mats(n, k)
+            rows = [[value_at(pairing(one, other), number) for other in halves] for one in halves]
+            found.append((k, rank(rows, prime)))
+    return found
+
+
+def closed_rank(n, number, prime):
+    rows = []
+    for one in all_mats(n, n):
+        told = [joined_once(one, flipped(other)) for other in all_mats(n, n)]
+        rows.append([number ** (rings + closed_rings(mat)) for rings, mat in told])
+    return rank(rows, prime)

@@ -52,6 +52,16 @@ SESSION = """
 >>> from hookmats.faces import between, colours, cut_string, room_at, rooms, sides
 >>> [rooms(hook(2, 0)), colours(hook(2, 0)), sides(hook(2, 0)), between(hook(2, 0), 1, 2), room_at(hook(2, 0), True, 1), cut_string(hook(2, 0), 0)]
 [[((), (1,)), ((0, 2), (0, 2)), ((1,), ())], [1, 0, 1], [(0, 1, 1, 2), (2, 3, 0, 1)], [(0, 1)], 0, (0, 2, (1, 0))]
+>>> from hookmats.walks import half_of, how_many_walks, mat_of, nth_walk, pair_of, rank_walk, returns, returns_row, sums_along, walk_of
+>>> [walk_of(upper_half(e)), half_of((1, 1, -1)), how_many_walks(4, 2), nth_walk(3, 1, 0), pair_of(e), mat_of((1, -1), (1, -1)), returns((1, -1, 1, -1)), returns_row(3), sums_along((1, 1, -1))]
+[(1, -1, 1), (3, 1, (3, 2, 1, 0)), 3, (1, -1, 1), ((1, -1, 1), (1, -1, 1)), (2, 2, (1, 0, 3, 2)), 2, [0, 2, 2, 1], [0, 1, 2, 1]]
+>>> from hookmats.worths import barred, closed_rank, first_zero, is_whole, left_size, ranks
+>>> [first_zero(0, 5), barred(4, 0, 5), ranks(3, 1, 5), left_size(3, 1, 5), is_whole(3, 0, 5), closed_rank(2, 0, 5)]
+[1, [2, 4], [(1, 1), (3, 1)], 2, True, 0]
+>>> from hookmats.live import Live
+>>> live = Live(3)
+>>> [live.put_all((0, 1, 0, 0)), live.rings, live.mat == e, live.least(), live.closed(), live.undo(), live.rings, live.word]
+[None, 1, True, (0,), 3, None, 0, (0, 1, 0)]
 """
 
 
@@ -67,10 +77,10 @@ class TestExamples(unittest.TestCase):
         self.assertEqual((result.failed, result.attempted), (0, attempted), "".join(told))
 
     def test_the_session(self):
-        self.assert_holds(SESSION, 31)
+        self.assert_holds(SESSION, 38)
 
     def test_the_readme(self):
-        self.assert_holds(README.read_text().replace("```\n", "\n"), 32)
+        self.assert_holds(README.read_text().replace("```\n", "\n"), 44)
 
 
 if __name__ == "__main__":

@@ -61,7 +61,26 @@ FUNCTIONS = {
         "rooms": "mat", "room_at": "mat below gap", "colours": "mat", "sides": "mat", "between": "mat one other",
         "cut_string": "mat peg",
     },
+    "walks": {
+        "is_walk": "told", "walk_of": "half", "half_of": "walk", "how_many_walks": "n k", "nth_walk": "n k number",
+        "rank_walk": "walk", "pair_of": "mat", "mat_of": "one other", "sums_along": "walk", "returns": "walk",
+        "returns_row": "h",
+    },
+    "worths": {
+        "first_zero": "number prime", "barred": "n number prime", "ranks": "n number prime",
+        "left_size": "n number prime", "is_whole": "n number prime", "closed_rank": "n number prime",
+    },
 }
+
+# The classes, the parameters of each method behind the object, and the properties.
+CLASSES = {
+    "live": {"Live": {
+        "__init__": "n", "__len__": "", "put": "hook", "put_all": "word", "undo": "", "closed": "",
+        "through_now": "", "least": "", "twin": "",
+    }},
+}
+PROPERTIES = {"Live": ("mat", "rings", "word")}
+MADE = {"Live": (3,)}
 
 
 class TestInterface(unittest.TestCase):
@@ -74,9 +93,33 @@ class TestInterface(unittest.TestCase):
                 self.assertEqual(function.__module__, "hookmats." + file)
                 told = inspect.signature(function).parameters.values()
                 self.assertEqual([one.name for one in told], parameters.split(), name)
-                for one in told:
-                    self.assertIs(one.kind, inspect.Parameter.POSITIONAL_OR_KEYWORD)
-                    self.assertIs(one.default, inspect.Parameter.empty)
+                self.assert_plain(told)
+
+    def assert_plain(self, parameters):
+        for one in parameters:
+            self.assertIs(one.kind, inspect.Parameter.POSITIONAL_OR_KEYWORD)
+            self.assertIs(one.default, inspect.Parameter.empty)
+
+    def test_each_class_stands_in_its_file_with_its_methods(self):
+        for file, classes in CLASSES.items():
+            module = importlib.import_module("hookmats." + file)
+            for name, methods in classes.items():
+                made = getattr(module, name)
+                self.assertEqual(made.__module__, "hookmats." + file)
+                for method, parameters in methods.items():
+                    self.assertIn(method, vars(made), name)
+                    told = list(inspect.signature(vars(made)[method]).parameters.values())[1:]
+                    self.assertEqual([one.name for one in told], parameters.split(), (name, method))
+                    self.assert_plain(told)
+                self.assertEqual(list(inspect.signature(made).parameters), methods["__init__"].split())
+
+    def test_each_object_has_its_properties_when_it_is_made(self):
+        for file, classes in CLASSES.items():
+            for name in classes:
+                made = getattr(importlib.import_module("hookmats." + file), name)(*MADE[name])
+                for told in PROPERTIES[name]:
+                    self.assertTrue(hasattr(made, told), (name, told))
+                    self.assertFalse(callable(getattr(made, told)), (name, told))
 
 
 if __name__ == "__main__":

@@ -21,8 +21,11 @@ BUILTINS = set((
     "OverflowError RuntimeError NotImplementedError AttributeError StopIteration NotImplemented"
 ).split())
 METHODS = set((
-    "__init__ __eq__ __repr__ __str__ __len__ __enter__ __exit__ __call__ __iter__"
-).split())
+    "__init__ __eq__ __repr__ __str__ __len__ __enter__ __exit__ __call__ __iter__ "
+    "__lt__ __le__ __gt__ __ge__ __ne__ __neg__ __pos__ __invert__ __abs__ __bool__ __contains__ __getitem__ __setitem__"
+).split()) | {
+    "__%s%s__" % (way, name) for way in ("", "r", "i")
+    for name in "add sub mul floordiv mod pow and or xor lshift rshift".split() if way + name != "rpow"}
 TAKEN = set(dir(builtins)) - {"_"}
 BARRED_NAMES = set((
     "register mro elements open input law version_info with_traceback add_note eval exec compile globals locals "
@@ -33,17 +36,20 @@ BARRED_WORDS = re.compile(
     r"NamedTuple|TypedDict|TYPE_CHECKING|abstractmethod)\b|dataclass|overload|contextmanager|_wall|_WallAttr")
 BARRED_NODES = (
     ast.Global, ast.AsyncFunctionDef, ast.AsyncFor, ast.AsyncWith, ast.Await, ast.Import, ast.Div, ast.MatMult,
-    ast.TryStar, ast.Set, ast.SetComp, ast.Pow, ast.Lambda, ast.GeneratorExp, ast.Yield, ast.YieldFrom, ast.NamedExpr,
+    ast.TryStar,
 )
 # L25: the methods of builtin values.
 VALUE_METHODS = set((
     "append clear copy count endswith extend find get index insert isalnum isalpha isdigit islower isspace isupper "
     "items join keys ljust lower lstrip partition pop remove replace reverse rfind rjust rpartition rsplit rstrip "
-    "setdefault split splitlines startswith strip update upper values zfill bit_length"
+    "setdefault split splitlines startswith strip update upper values zfill bit_length title capitalize swapcase "
+    "casefold center expandtabs removeprefix removesuffix rindex isascii isdecimal isnumeric istitle isidentifier "
+    "isprintable encode decode hex translate maketrans format sort add discard from_iterable"
 ).split())
 # L23: what is iterated at once, and what may stand around it.
 AT_ONCE = set("zip enumerate reversed range items keys values".split())
-AROUND = set("list tuple dict sorted sum any all enumerate zip min max".split())
+AROUND = set("list tuple dict sorted sum any all enumerate zip min max len reversed join iter map".split())
+AROUND |= set(LIBRARY["itertools"].split()) | {"from_iterable"}
 
 
 def tree_of(path):
@@ -57,6 +63,24 @@ def place_of(node):
 def called(node):
     """The name of a function or a method that is called."""
     return node.func.attr if isinstance(node.func, ast.Attribute) else getattr(node.func, "id", "")
+
+
+def all_nodes():
+    """Each node of each file, with where it stands."""
+    for path in FILES:
+        for node in ast.walk(tree_of(path)):
+            yield node, (path.name, getattr(node, "lineno", 0))
+
+
+def own_methods():
+    """Each method that a class of the package defines."""
+    return [one for node, _ in all_nodes() if isinstance(node, ast.ClassDef)
+            for one in node.body if isinstance(one, ast.FunctionDef)]
+
+
+def parents(tree):
+    return {place_of(below): node for node in ast.walk(tree) for below in ast.iter_child_nodes(node)
+            if hasattr(below, "lineno")}
 
 
 def bound_names(tree):
@@ -157,32 +181,69 @@ class TestLanguage(unittest.TestCase):
             for node in ast.walk(tree_of(path)):
                 where = (path.name, getattr(node, "lineno", 0))
                 self.assertNotIsInstance(node, BARRED_NODES, where)
-                if isinstance(node, (ast.FunctionDef, ast.ClassDef)):
-                    self.assertEqual(node.decorator_list, [], where)
+                if isinstance(node, ast.BinOp) and isinstance(node.op, ast.Pow):
+                    self.assertIsInstance(node.right, (ast.Constant, ast.Name, ast.BinOp), where)
                 if isinstance(node, ast.Constant):
                     self.assertNotIsInstance(node.value, (float, complex, bytes), where)
                     self.assertNotIn("%", node.value if isinstance(node.value, str) else "", where)
             self.assertIsNone(BARRED_WORDS.search(path.read_text()), path.name)
 
     def test_methods(self):
-        for path in FILES:
-            for node in ast.walk(tree_of(path)):
-                if isinstance(node, ast.Call) and isinstance(node.func, ast.Attribute):
-                    self.assertIn(node.func.attr, VALUE_METHODS, (path.name, node.lineno))
-                    self.assertEqual(node.keywords, [], (path.name, node.lineno))
+        own = {method.name for method in own_methods()}
+        for node, where in all_nodes():
+            if isinstance(node, ast.Call) and isinstance(node.func, ast.Attribute):
+                self.assertIn(node.func.attr, VALUE_METHODS | own, where)
+
+    def test_decorators(self):
+        methods = own_methods()
+        over = {place_of(method) for method in methods}
+        for node, where in all_nodes():
+            if isinstance(node, (ast.FunctionDef, ast.ClassDef)) and node.decorator_list:
+                self.assertIn(place_of(node), over, where)
+        for method in methods:
+            told = [ast.unparse(one) for one in method.decorator_list]
+            self.assertIn(told, ([], ["property"], [method.name + ".setter"], ["staticmethod"], ["classmethod"]))
+            if "property" in told:
+                self.assertNotIn(method.name, VALUE_METHODS)
+
+    def test_no_name_is_a_method_and_an_attribute(self):
+        for node, where in all_nodes():
+            if isinstance(node, ast.ClassDef):
+                methods = {one.name for one in node.body if isinstance(one, ast.FunctionDef)}
+                told = {one.attr for one in ast.walk(node)
+                        if isinstance(one, ast.Attribute) and isinstance(one.ctx, ast.Store)}
+                setters = {one.name for one in node.body if getattr(one, "decorator_list", [])}
+                self.assertFalse((methods - setters) & told, where)
+
+    def test_lengths(self):
+        for method in own_methods():
+            if method.name == "__len__":
+                for node in ast.walk(method):
+                    if isinstance(node, ast.Return):
+                        told = isinstance(node.value, ast.Constant) or called(node.value) == "len"
+                        self.assertTrue(told, ast.unparse(node))
+
+    def test_errors_are_made_where_they_are_raised(self):
+        for node, where in all_nodes():
+            if isinstance(node, ast.Raise) and node.exc is not None:
+                self.assertIsInstance(node.exc, ast.Call, where)
+                self.assertIsInstance(node.exc.func, ast.Name, where)
+            if isinstance(node, ast.ExceptHandler):
+                self.assertIsInstance(node.type, (ast.Name, ast.Tuple), where)
+                self.assertNotIn(ast.unparse(node.type), ("Exception", "TypeError", "RuntimeError", "OverflowError"))
 
     def test_iterated_at_once(self):
         for path in FILES:
-            allowed = set()
-            for node in ast.walk(tree_of(path)):
-                if isinstance(node, (ast.For, ast.comprehension)):
-                    allowed.add(place_of(node.iter))
-                if isinstance(node, ast.Call) and called(node) in AROUND | {"reversed"}:
-                    inside = [one for one in node.args if isinstance(one, ast.Call)]
-                    allowed |= {place_of(one) for one in inside if called(node) in AROUND or called(one) == "range"}
-            for node in ast.walk(tree_of(path)):
+            tree = tree_of(path)
+            above = parents(tree)
+            for node in ast.walk(tree):
                 if isinstance(node, ast.Call) and called(node) in AT_ONCE:
-                    self.assertIn(place_of(node), allowed, path.name)
+                    around = above[place_of(node)]
+                    if isinstance(around, ast.Call):
+                        self.assertIn(called(around), AROUND, (path.name, node.lineno))
+                    else:
+                        self.assertIsInstance(
+                            around, (ast.For, ast.comprehension, ast.Compare, ast.Assign, ast.YieldFrom), path.name)
 
     def test_tables_at_module_level_hold_plain_values(self):
         for path in FILES:
