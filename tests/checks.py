@@ -203,3 +203,9 @@ NO_WALKS = {
     "far and back": (10 ** 30, -(10 ** 30)),
     "down from 0 after sixty": (1, -1) * 29 + (-1, 1),
 }
+
+# Texts that are no names.
+NO_NAMES = [
+    "", " ", "A", "Z", "aB", "abcdefghi", "a" * 9, "a" * 300, "1", "a1", "1a", "a b", " a", "a ", "a\n", "\na", "a\t",
+    "a-b", "a_b", "_", "-", ".", "a.", "a|b", "[a]", "`", "{", "a`", "a{", "@", "~", "+", "0", "abcdefg\n", "abcdefgH",
+]

@@ -805,3 +805,22 @@ def closed_rank(n, number, prime):
         told = [joined_once(one, flipped(other)) for other in all_mats(n, n)]
         rows.append([number ** (rings + closed_rings(mat)) for rings, mat in told])
     return rank(rows, prime)
+
+
+def some_mat(n, m, chance):
+    """A mat of n and m, drawn: round about each peg begins a string or ends the last one begun."""
+    around, begun, pairs = round_about(n, m), [], []
+    for at, peg in enumerate(around):
+        left = len(around) - at
+        if begun and (len(begun) == left or chance.random() < 0.5):
+            pairs.append((begun.pop(), peg))
+        else:
+            begun.append(peg)
+    return mat_of(n, m, pairs)
+
+
+def some_walk(n, chance):
+    walk = ()
+    for _ in range(n):
+        walk += (chance.choice((1, -1)) if sum(walk) else 1,)
+    return walk

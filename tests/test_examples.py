@@ -62,6 +62,20 @@ SESSION = """
 >>> live = Live(3)
 >>> [live.put_all((0, 1, 0, 0)), live.rings, live.mat == e, live.least(), live.closed(), live.undo(), live.rings, live.word]
 [None, 1, True, (0,), 3, None, 0, (0, 1, 0)]
+>>> from hookmats.books import Book
+>>> book = Book(3, [('a', (0,)), ('b', (1,)), ('c', (0, 1, 0))])
+>>> [len(book), book.alike_names(), len(book.reached()), book.shortest(joined(e, f)[1]), book.shortest(straight(3)), book.word_of('c')]
+[3, [['a', 'c'], ['b']], 4, ['a', 'b'], None, (0, 1, 0)]
+>>> from hookmats.texts import show_mat, show_parts, show_poly, show_sum, show_walk, show_word
+>>> [show_mat(e), show_word((0, 1)), show_poly((-1, 0, 1)), show_sum(word_sum(2, (0, 0))), show_parts(((0, 2), (1,))), show_walk((1, -1))]
+['3|3: 0-1 2-5 3-4', '0 1', '-1 + 1 w^2', '1 w [2|2: 0-1 2-3]', '0 2 / 1', '+-']
+>>> from hookmats.readers import read_mat, read_poly, read_sum, read_walk
+>>> [read_mat('3|3: 0-1 2-5 3-4') == e, read_poly('-1 + 1 w^2'), read_sum('1 w [2|2: 0-1 2-3]') == word_sum(2, (0, 0)), read_walk('.')]
+[True, (-1, 0, 1), True, ()]
+>>> from hookmats.desk import Desk
+>>> desk = Desk()
+>>> [desk.order(text) for text in ['put a 2|2: 0-1 2-3', 'single s a', 'multiply q s s', 'show q', 'closed a', 'undo', 'names']]
+['done', 'done', 'done', '1 w [2|2: 0-1 2-3]', '1', 'done', 'a s']
 """
 
 
@@ -77,10 +91,10 @@ class TestExamples(unittest.TestCase):
         self.assertEqual((result.failed, result.attempted), (0, attempted), "".join(told))
 
     def test_the_session(self):
-        self.assert_holds(SESSION, 38)
+        self.assert_holds(SESSION, 48)
 
     def test_the_readme(self):
-        self.assert_holds(README.read_text().replace("```\n", "\n"), 44)
+        self.assert_holds(README.read_text().replace("```\n", "\n"), 59)
 
 
 if __name__ == "__main__":

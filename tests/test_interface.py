@@ -70,6 +70,14 @@ FUNCTIONS = {
         "first_zero": "number prime", "barred": "n number prime", "ranks": "n number prime",
         "left_size": "n number prime", "is_whole": "n number prime", "closed_rank": "n number prime",
     },
+    "texts": {
+        "show_mat": "mat", "show_word": "word", "show_poly": "poly", "show_sum": "told", "show_parts": "told",
+        "show_walk": "walk",
+    },
+    "readers": {
+        "read_mat": "text", "read_word": "text", "read_poly": "text", "read_sum": "text", "read_parts": "text",
+        "read_walk": "text",
+    },
 }
 
 # The classes, the parameters of each method behind the object, and the properties.
@@ -78,9 +86,19 @@ CLASSES = {
         "__init__": "n", "__len__": "", "put": "hook", "put_all": "word", "undo": "", "closed": "",
         "through_now": "", "least": "", "twin": "",
     }},
+    "books": {"Book": {
+        "__init__": "n entries", "__len__": "", "word_of": "name", "mat_of": "name", "alike_names": "", "reached": "",
+        "shortest": "mat",
+    }},
+    "desk": {"Desk": {
+        "__init__": "", "__len__": "", "forks": "", "names": "", "put": "name mat", "lay": "name told",
+        "make": "name deed", "drop": "name", "branch": "name", "switch": "name", "undo": "", "mat_named": "name",
+        "sum_named": "name", "same_as": "name", "loose": "one other", "closed": "name", "trace_of": "name",
+        "order": "text",
+    }},
 }
-PROPERTIES = {"Live": ("mat", "rings", "word")}
-MADE = {"Live": (3,)}
+PROPERTIES = {"Live": ("mat", "rings", "word"), "Book": ("n", "entries"), "Desk": ("fork",)}
+MADE = {"Live": (3,), "Book": (3, [("a", (0,))]), "Desk": ()}
 
 
 class TestInterface(unittest.TestCase):

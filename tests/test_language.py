@@ -22,14 +22,15 @@ BUILTINS = set((
 ).split())
 METHODS = set((
     "__init__ __eq__ __repr__ __str__ __len__ __enter__ __exit__ __call__ __iter__ "
-    "__lt__ __le__ __gt__ __ge__ __ne__ __neg__ __pos__ __invert__ __abs__ __bool__ __contains__ __getitem__ __setitem__"
+    "__lt__ __le__ __gt__ __ge__ __ne__ __neg__ __pos__ __invert__ __abs__ __bool__ __contains__ __getitem__ "
+    "__setitem__"
 ).split()) | {
     "__%s%s__" % (way, name) for way in ("", "r", "i")
     for name in "add sub mul floordiv mod pow and or xor lshift rshift".split() if way + name != "rpow"}
 TAKEN = set(dir(builtins)) - {"_"}
-BARRED_NAMES = set((
-    "register mro elements open input law version_info with_traceback add_note eval exec compile globals locals "
-    "vars dir id type exit quit help os gc builtins importlib"
+BARRED_ATTRIBUTES = set("register mro elements open input law version_info with_traceback add_note".split())
+BARRED_NAMES = BARRED_ATTRIBUTES | set((
+    "eval exec compile globals locals vars dir id type exit quit help os gc builtins importlib"
 ).split())
 BARRED_WORDS = re.compile(
     r"\b(typing|typing_extensions|enum|Enum|IntEnum|StrEnum|Flag|IntFlag|Generic|Protocol|ABC|ABCMeta|namedtuple|"
@@ -48,7 +49,7 @@ VALUE_METHODS = set((
 ).split())
 # L23: what is iterated at once, and what may stand around it.
 AT_ONCE = set("zip enumerate reversed range items keys values".split())
-AROUND = set("list tuple dict sorted sum any all enumerate zip min max len reversed join iter map".split())
+AROUND = set("list tuple dict sorted sum any all enumerate zip min max len reversed join iter map bytes".split())
 AROUND |= set(LIBRARY["itertools"].split()) | {"from_iterable"}
 
 
@@ -102,6 +103,8 @@ def top_names(tree):
             names.append(node.name)
         elif isinstance(node, ast.Assign):
             names.extend(target.id for target in node.targets)
+        elif isinstance(node, ast.AnnAssign):
+            names.append(node.target.id)
         elif isinstance(node, ast.ImportFrom):
             names.extend(alias.name for alias in node.names)
     return names
@@ -134,7 +137,7 @@ class TestLanguage(unittest.TestCase):
                     self.assertTrue(at == 0 and isinstance(node.value, ast.Constant), (path.name, node.lineno))
                 else:
                     self.assertIsInstance(
-                        node, (ast.ImportFrom, ast.FunctionDef, ast.ClassDef, ast.Assign), path.name)
+                        node, (ast.ImportFrom, ast.FunctionDef, ast.ClassDef, ast.Assign, ast.AnnAssign), path.name)
             names = top_names(tree)
             self.assertEqual(len(names), len(set(names)), path.name)
 
@@ -143,7 +146,7 @@ class TestLanguage(unittest.TestCase):
         for path in FILES:
             seen[path.stem] = []
             for node in ast.walk(tree_of(path)):
-                if not isinstance(node, ast.ImportFrom):
+                if not isinstance(node, ast.ImportFrom) or node.module == "__future__":
                     continue
                 self.assertEqual(node.level, 0)
                 self.assertTrue(all(alias.asname is None for alias in node.names), path.name)
@@ -172,7 +175,7 @@ class TestLanguage(unittest.TestCase):
                 if isinstance(node, ast.Name) and node.id in TAKEN:
                     self.assertIn(node.id, BUILTINS, (path.name, node.lineno))
                 if isinstance(node, ast.Attribute):
-                    self.assertNotIn(node.attr, BARRED_NAMES, (path.name, node.lineno))
+                    self.assertNotIn(node.attr, BARRED_ATTRIBUTES, (path.name, node.lineno))
             imported = {alias.name for node in tree.body if isinstance(node, ast.ImportFrom) for alias in node.names}
             self.assertFalse(imported & set(bound_names(tree)), path.name)
 
@@ -184,7 +187,7 @@ class TestLanguage(unittest.TestCase):
                 if isinstance(node, ast.BinOp) and isinstance(node.op, ast.Pow):
                     self.assertIsInstance(node.right, (ast.Constant, ast.Name, ast.BinOp), where)
                 if isinstance(node, ast.Constant):
-                    self.assertNotIsInstance(node.value, (float, complex, bytes), where)
+                    self.assertNotIsInstance(node.value, (float, complex), where)
                     self.assertNotIn("%", node.value if isinstance(node.value, str) else "", where)
             self.assertIsNone(BARRED_WORDS.search(path.read_text()), path.name)
 
@@ -210,8 +213,8 @@ class TestLanguage(unittest.TestCase):
         for node, where in all_nodes():
             if isinstance(node, ast.ClassDef):
                 methods = {one.name for one in node.body if isinstance(one, ast.FunctionDef)}
-                told = {one.attr for one in ast.walk(node)
-                        if isinstance(one, ast.Attribute) and isinstance(one.ctx, ast.Store)}
+                told = {one.attr for one in ast.walk(node) if isinstance(one, ast.Attribute)
+                        and isinstance(one.ctx, ast.Store) and ast.unparse(one.value) == "self"}
                 setters = {one.name for one in node.body if getattr(one, "decorator_list", [])}
                 self.assertFalse((methods - setters) & told, where)
 
@@ -251,7 +254,8 @@ class TestLanguage(unittest.TestCase):
                 if isinstance(node, ast.Assign):
                     self.assertEqual(len(node.targets), 1)
                     self.assertIsInstance(node.targets[0], ast.Name)
-                    ast.literal_eval(node.value)
+                    for inner in ast.walk(node.value):
+                        self.assertNotIsInstance(inner, (ast.Call, ast.Lambda, ast.ListComp, ast.DictComp), path.name)
 
 
 if __name__ == "__main__":

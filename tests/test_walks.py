@@ -22,17 +22,9 @@ NO_HALVES = [
 WALK_CALLS = [walks.half_of, walks.rank_walk, walks.sums_along, walks.returns]
 
 
-def some_walk(n, chance):
-    """A walk of n, its steps drawn, up where there is no other."""
-    walk = ()
-    for _ in range(n):
-        walk += (chance.choice((1, -1)) if sum(walk) else 1,)
-    return walk
-
-
 def some_walks(n, many, seed):
     chance = random.Random(seed)
-    return [some_walk(n, chance) for _ in range(many)]
+    return [oracles.some_walk(n, chance) for _ in range(many)]
 
 
 def ended(n, k, chance):
@@ -237,8 +229,7 @@ class TestPairs(Case):
     def test_sixteen_pegs(self):
         chance = random.Random(6)
         for n in range(17):
-            for number in [0, 1429] + [chance.randrange(1430) for _ in range(8)]:
-                mat = mats.nth(n, 16 - n, number)
+            for mat in [oracles.some_mat(n, 16 - n, chance) for _ in range(12)]:
                 wanted = (oracles.upper_walk(mat), oracles.upper_walk(oracles.flipped(mat)))
                 self.assert_same_kind(self.in_time(walks.pair_of, mat), wanted)
                 self.assert_same_kind(self.in_time(walks.mat_of, *wanted), mat)
@@ -249,9 +240,9 @@ class TestPairs(Case):
                 row = [mat, mats.upside_down(mat), mat]
                 self.assertEqual(joins.joined_all(row)[1], mat)
                 self.assertEqual(walks.pair_of(joins.joined_all(row)[1]), walks.pair_of(mat))
-        for number in range(0, 1430, 13):
-            for n in (1, 2, 7, 8, 11, 15):
-                mat = mats.nth(n, 16 - n, number)
+        chance = random.Random(7)
+        for n in range(1, 16):
+            for mat in [oracles.some_mat(n, 16 - n, chance) for _ in range(25)]:
                 self.assertEqual(joins.joined_all([mat, mats.upside_down(mat), mat])[1], mat)
 
 
